@@ -1,0 +1,1 @@
+"""Anymaker: what holds for all makers of a small language that leaves things open."""
