@@ -45,63 +45,100 @@ def table_under(document, old, new, names, choice):
     others = Sense(document, old, names, choice, memories)
     found = []
     for memory in memories:
-        events, fault = paired(mine.rows(memory), others.rows(memory))
-        if fault is not None:
-            return ("wrong", telling_context(document, names, choice, memory, mine, others, events, fault))
-        found.append(events)
+        pairs = paired(mine.meaning_from(memory), others.meaning_from(memory))
+        if pairs is None:
+            return ("wrong", telling_context(document, names, choice, memory, mine, others))
+        found.append(pairs)
     return ("right", tuple(found))
 
 
 def paired(mine, others):
-    """The ascending tuple of the pairs of rows that come and None, or the events to a fault and this."""
-    events = {(0, 0): ()}
+    """The ascending tuple of the pairs of rows that come, None if one row has what the other lacks."""
     pending = [(0, 0)]
+    seen = {(0, 0): True}
     at = 0
     while at < len(pending):
-        pair = pending[at]
+        row, beside = mine[pending[at][0]], others[pending[at][1]]
         at += 1
-        row, beside = mine[pair[0]], others[pair[1]]
         if beside == ("free",):
             continue
-        fault = fault_of(row, beside)
-        if fault is not None:
-            return events[pair], fault
-        ways = dict(beside[3])
+        if not is_within(row, beside):
+            return None
+        ways = {event: reached for event, reached in beside[3]}
         for event, reached in row[3]:
-            behind = (reached, ways[event])
-            if behind not in events:
-                events[behind] = events[pair] + (event,)
-                pending.append(behind)
-    return tuple(sorted(pending)), None
+            pair = (reached, ways[event])
+            if pair not in seen:
+                seen[pair] = True
+                pending.append(pair)
+    return tuple(sorted(pending))
 
 
-def fault_of(row, beside):
-    """What a row has that the one beside it lacks, a pair of a word and a worth; None if nothing."""
-    if row == ("free",):
-        return ("ruined", None)
-    if row[1] and not beside[1]:
-        return ("never", None)
-    told = dict(beside[2])
+def is_within(row, beside):
+    """Whether a row has only what the one beside it has, which is not free."""
+    if row == ("free",) or row[1] and not beside[1]:
+        return False
+    told = {worth: memories for worth, memories in beside[2]}
     for worth, memories in row[2]:
         if not all([memory in told.get(worth, ()) for memory in memories]):
-            return ("ends", worth)
-    ways = dict(beside[3])
-    if not all([event in ways for event, _ in row[3]]):
-        return ("shown", None)
-    return None
+            return False
+    ways = [event for event, _ in beside[3]]
+    return all([event in ways for event, _ in row[3]])
 
 
-def telling_context(document, names, choice, memory, mine, others, events, fault):
-    """A context that tells a fault behind these events."""
-    if fault[0] != "ends":
+def telling_context(document, names, choice, memory, mine, others):
+    """A context that tells what new does from a memory, and old does not."""
+    fault = strange_result(mine, others, memory)
+    if fault is None:
         return context_of(document, names, choice, memory, None, False)
-    worth = fault[1]
-    lot = others.results_behind(memory, events).get(worth, [])
-    beside = others.results_at_all(memory).get(worth, []) if others.is_whole else []
-    found = boxes(others.fills, others.machine.size, lot, beside, len(names))
-    for result in mine.results_behind(memory, events)[worth]:
-        if not any([is_in_box(result, box) for box in found]):
-            looks = looks_at(others.fills, names, result, lot, beside)
-            asks = not others.is_whole and "none" in others.fills
-            return context_of(document, names, choice, memory, [(None, worth)] + looks, asks)
+    worth, result, lot, beside = fault
+    looks = looks_at(others.fills, names, result, lot, beside)
+    asks = not others.is_whole and "none" in others.fills
+    return context_of(document, names, choice, memory, [(None, worth)] + looks, asks)
+
+
+def strange_result(mine, others, memory):
+    """A result of new that old does not cover: (worth, memory, lot, beside).
+
+    None if already the showings of new are not all of old. Rows tell of more memories than there
+    are results, so the results themselves are looked for.
+    """
+    pending = [(mine.first_lot(memory), others.first_lot(memory))]
+    seen = {pending[0]: True}
+    at = 0
+    found = None
+    while at < len(pending):
+        lot, beside = pending[at]
+        at += 1
+        if "ruined" in others.lots.ends(beside):
+            continue
+        if shows_more(mine.lots, lot, others.lots, beside):
+            return None
+        if found is None:
+            found = uncovered(mine, lot, others, beside, memory)
+        ways = others.lots.behind(beside)
+        for event, reached in mine.lots.behind(lot).items():
+            pair = (reached, ways[event])
+            if pair not in seen:
+                seen[pair] = True
+                pending.append(pair)
+    return found
+
+
+def shows_more(mine, lot, others, beside):
+    """Whether a lot is ruined, goes on for ever or has an event where the one beside it does not."""
+    if any([end not in others.ends(beside) for end in mine.ends(lot) if end != "ends"]):
+        return True
+    ways = others.behind(beside)
+    return any([event not in ways for event in mine.behind(lot)])
+
+
+def uncovered(mine, lot, others, index, memory):
+    """A result in a lot of new that is not covered by those of the lot of old with this index."""
+    for worth, results in mine.results(mine.lots.rows[lot]).items():
+        rows = others.results(others.lots.rows[index]).get(worth, [])
+        beside = others.results_at_all(memory).get(worth, []) if others.is_whole else []
+        found = boxes(others.fills, others.machine.size, rows, beside, others.many)
+        for result in results:
+            if not any([is_in_box(result, box) for box in found]):
+                return (worth, result, rows, beside)
     return None

@@ -124,7 +124,7 @@ class Lots:
                 for event, one in self.field.eventful[number]:
                     reached.setdefault(event, []).append(one)
             self.after[index] = tuple([(event, self.least(reached[event])) for event in sorted(reached)])
-        return dict(self.after[index])
+        return {event: reached for event, reached in self.after[index]}
 
     def behind_all(self, index, events):
         """The index of the lot behind these events, None if they do not come."""

@@ -24,7 +24,7 @@ def meaning(document, piece, names, choice, memory):
     judge_free_choice(document, choice)
     if not is_memory(memory, len(names), SIZES[choice[3]]):
         raise BadMemory("no memory of the names")
-    return tuple(Sense(document, piece, names, choice, [memory]).rows(memory))
+    return tuple(Sense(document, piece, names, choice, [memory]).meaning_from(memory))
 
 
 def are_names(thing):
@@ -72,13 +72,13 @@ class Sense:
         self.wides = Lots(self.field, True)
         self.covered = {}
 
-    def rows(self, memory):
+    def meaning_from(self, memory):
         """The meaning from this memory, as a list of rows."""
         wide = self.wides.least([self.starts[memory]])
         if self.is_whole and "ruined" in self.wides.ends(wide):
             return [("free",)]
         beside = self.results(self.wides.rows[wide]) if self.is_whole else {}
-        indexes = [self.lots.least([self.starts[memory]])]
+        indexes = [self.first_lot(memory)]
         places = {indexes[0]: 0}
         heads, goes = [], []
         while len(heads) < len(indexes):
@@ -120,12 +120,8 @@ class Sense:
             self.covered[key] = ascending([memory for box in found for memory in memories_in(box)])
         return self.covered[key]
 
-    def results_behind(self, memory, events):
-        """The results with which runs from a memory end behind these events."""
-        index = self.lots.least([self.starts[memory]])
-        for event in events:
-            index = self.lots.behind(index)[event]
-        return self.results(self.lots.rows[index])
+    def first_lot(self, memory):
+        return self.lots.least([self.starts[memory]])
 
     def results_at_all(self, memory):
         """The results with which runs from a memory end, whatever they show."""

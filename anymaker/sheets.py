@@ -57,7 +57,7 @@ def first_between(one, other):
 
 
 def goes_at(rows, row):
-    return {} if row is None else dict(rows[row][1])
+    return {} if row is None else {event: reached for event, reached in rows[row][1]}
 
 
 def ends_at(rows, row):

@@ -1,0 +1,82 @@
+"""The interface: names of modules, functions, parameters and errors, as the document lists them."""
+
+import importlib
+import inspect
+import unittest
+
+FUNCTIONS = {
+    "words": ("is_name(thing)", "words_of(text)"),
+    "expressions": ("is_expression(thing)",),
+    "programs": ("is_program(thing)", "places(program, kind)"),
+    "documents": ("is_document(thing)",),
+    "choices": ("is_choice(document, program, thing)", "choices(document, program)"),
+    "makers": ("is_maker(document, program, thing)", "maker_of(document, program, choice, options)"),
+    "placing": ("placed(program, part)",),
+    "stepping": ("moves(document, program, choice, standing)", "standings(document, program, choice)"),
+    "runs": ("run(document, program, maker, inputs, most)", "requests(document, program, maker, inputs, most)"),
+    "nexts": ("events_of(document, program, choice, standing)",),
+    "pieces": ("is_piece(thing)", "is_context(thing)", "filled(context, piece)"),
+    "bases": ("bases(document, program)", "swallowed(document)"),
+    "tables": ("table(document, old, new, base, other)", "is_table(document, old, new, base, other, thing)"),
+    "rewriting": ("right_program(document, old, new)", "are_wrong_runs(document, old, new, base, thing)"),
+    "covering": ("covers(document, choice, memory, lot, beside)",),
+    "meanings": ("meaning(document, piece, names, choice, memory)",),
+    "anywhere": ("right_anywhere(document, old, new)",),
+    "lots": ("lot_behind(document, program, choice, events)",),
+    "comings": ("comes(document, program, showing)", "is_coming(document, program, showing, thing)"),
+    "sheets": ("sheet(document, program)", "first_apart(document, program, other)"),
+    "goals": ("least_lots(document, program, goal)", "least_bans(document, program, goal)",
+              "widest(document, program, goal)"),
+}
+PLAIN_ERRORS = (
+    "BadBarred BadBase BadChoice BadContext BadContract BadDocument BadEnds BadEvents BadGoal BadGrouping BadHeld "
+    "BadInputs BadKept BadKind BadLevel BadLot BadMachine BadMaker BadMany BadMemory BadModes BadMost BadNames "
+    "BadNumber BadOptions BadPairs BadPart BadPath BadPiece BadPins BadProgram BadPrograms BadRecords BadRow BadRuin "
+    "BadSecond BadShowing BadStanding BadTerms BadThing BadTrace BadWidth FixedFill NotAhead NotTold NothingDone "
+    "NothingUndone OtherChoice Ruined Tight"
+).split()
+TELLING_ERRORS = {"BadScope": ("kind",), "BadText": ("line", "column", "wanted"), "TooMany": ("most",),
+                  "Unnamed": ("name",)}
+
+
+class InterfaceTest(unittest.TestCase):
+    def test_functions_stand_in_their_modules_with_their_parameters(self):
+        for module, rows in FUNCTIONS.items():
+            found = importlib.import_module("anymaker." + module)
+            for row in rows:
+                name, parameters = row[:-1].split("(")
+                function = getattr(found, name)
+                self.assertEqual(function.__module__, "anymaker." + module)
+                self.assertEqual(list(inspect.signature(function).parameters), parameters.split(", "))
+
+    def test_plain_errors(self):
+        errors = importlib.import_module("anymaker.errors")
+        self.assertEqual(errors.MakerError.__bases__, (ValueError,))
+        for name in PLAIN_ERRORS:
+            error = getattr(errors, name)
+            self.assertEqual(error.__bases__, (errors.MakerError,))
+            self.assertEqual(str(error("a message")), "a message")
+
+    def test_errors_with_attributes(self):
+        errors = importlib.import_module("anymaker.errors")
+        for name, attributes in TELLING_ERRORS.items():
+            error = getattr(errors, name)
+            self.assertEqual(error.__bases__, (errors.MakerError,))
+            self.assertEqual(list(inspect.signature(error).parameters), list(attributes))
+            values = tuple(range(1, 1 + len(attributes)))
+            for made in (error(*values), error(**dict(zip(attributes, values)))):
+                self.assertEqual(tuple(getattr(made, one) for one in attributes), values)
+
+    def test_no_other_errors(self):
+        errors = importlib.import_module("anymaker.errors")
+        told = {name for name, thing in vars(errors).items() if inspect.isclass(thing)}
+        self.assertEqual(told, set(PLAIN_ERRORS) | set(TELLING_ERRORS) | {"MakerError"})
+
+    def test_the_package_itself_defines_nothing(self):
+        package = importlib.import_module("anymaker")
+        own = [name for name, thing in vars(package).items() if not name.startswith("__") and not inspect.ismodule(thing)]
+        self.assertEqual(own, [])
+
+
+if __name__ == "__main__":
+    unittest.main()

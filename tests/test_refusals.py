@@ -1,0 +1,220 @@
+"""Wrong values of every parameter, each with its error, in the order in which they are judged."""
+
+import copy
+import importlib
+import unittest
+
+from anymaker import errors
+from tests.samples import ASK, document, name, number, program, put, show, then
+from tests.test_interface import FUNCTIONS
+
+ONE = number(1)
+TOLD = document(("ever", ("left", "right")), ("ever", ("up",)), ("anew", (0, "none")), ("run", (1,)))
+WIDE = document(order=("place", ("left", "right")), fill=("run", (0, 1, 2)))
+SUMS = program(then(*[("plus", ONE, ONE)] * 8))
+THING = program(show(("plus", name("x"), ASK)), ("x", "y"), (("p", ONE),))
+CHOICE = ("left", "up", None, 1)
+MAKER = ("maker", CHOICE, (((0, 0),),))
+STANDING = (("name", "x", ("body", (1, 1))), (None, 0))
+BASE = ("left", "up", None, None)
+CONTEXT = ("program", ("x",), (), show(("hole",)))
+
+NO_DOCUMENT = (None, 1, (), TOLD[:5], list(TOLD), document(ruin="none"), document(fill=("run", (False,))))
+NO_PROGRAM = (None, "program", (), list(THING), program(name("z")), program(("number", True)), program(("hole",)))
+NO_CHOICE = (None, (), list(CHOICE), ("left", "up", 0, 1), ("left", "up", None, True), ("up", "up", None, 1))
+NO_MAKER = (None, MAKER[:2], ("maker", CHOICE, ()), ("maker", CHOICE, (((1, 0),),)), ("maker", CHOICE, (((0, 1),),)),
+            ("maker", CHOICE, (((0, False),),)), ("maker", CHOICE, [((0, 0),)]))
+NO_INPUTS = (None, 1, "1", [8], [-1], [True], [None], {1: 1}, [[1]], ("1",))
+NO_MOST = (None, -1, 201, True, "1", [1], 10 ** 9)
+NO_STANDING = (None, (), STANDING[:1], list(STANDING), (STANDING[0], (None, 2)), (STANDING[0], [None, 0]),
+               (name("x"), (None, 0)), (STANDING[0], (None, False)), (("name", "x", ("body", (1,))), (None, 0)))
+NO_EVENTS = (None, 1, [], [("shown", 1)], (("shown", 8),), (("shown", True),), (("told", 1),), (["shown", 1],), ("shown", 1))
+NO_SHOWING = (None, (), ((), "end"), ((), None), ([], "ends"), [(), "ends"], ((("shown", -1),), "ends"), ((), "ends", 1),
+              (("shown", 1), "ends"))
+NO_GOAL = (None, "more", "waits", "end", ("shown", 8), ("shown", False), ["shown", 1], ("shown",), 1, ())
+NO_BASE = (None, CHOICE, (None, "up", None, None), ("left", "up", 0, None), ("left", "up", None, 1), list(BASE), ())
+NO_PIECE = (None, ONE[:1], ASK, ("name", "x", 0), ("call", "p"), then(ASK, ONE), ("hole",), ["number", 1],
+            then(name("a"), name("b"), name("c"), name("d")))
+NO_CONTEXT = (None, (), program(ONE), list(CONTEXT), ("program", ("x",), (), then(("hole",), ("name", "x", 1))),
+              ("program", (), (), ("hole",)), ("program", ("x",), (), then(("hole",), name("y"))),
+              ("program", ("x",), (), ["hole"]), ("program", ("x",), (), ("set", ("hole",), ONE)), ("hole",))
+NO_MEMORY = (None, 1, [0], (2,), (True,), ("0",), (-1,), (None,) * 4, (0, 2))
+NO_NAMES = (None, "x", ["x"], ("y",), ("x", "x"), ("y", "x"), ("x", "body"), ("a", "b", "c", "x"), (), ("x", 1))
+NO_LOT = (None, 1, "x", [()], [(0, 0)], [(2,)], [(True,)], [[0]], {0: 0}, [(0,), None])
+
+DOCUMENT = ("document", TOLD, NO_DOCUMENT, "BadDocument")
+PROGRAM = ("program", THING, NO_PROGRAM, "BadProgram")
+CHOICES = ("choice", CHOICE, NO_CHOICE, "BadChoice")
+OLD = ("old", THING, NO_PROGRAM, "BadProgram")
+NEW = ("new", THING, NO_PROGRAM, "BadProgram")
+BASES = ("base", BASE, NO_BASE, "BadBase")
+STANDINGS = ("standing", STANDING, NO_STANDING, "BadStanding")
+SHOWING = ("showing", ((), "ends"), NO_SHOWING, "BadShowing")
+GOAL = ("goal", "ends", NO_GOAL, "BadGoal")
+ANY = ("thing", None, (), None)
+RUN = (DOCUMENT, PROGRAM, ("maker", MAKER, NO_MAKER, "BadMaker"), ("inputs", [1, 2], NO_INPUTS, "BadInputs"),
+       ("most", 7, NO_MOST, "BadMost"))
+SIGNATURES = {
+    "is_choice": (DOCUMENT, PROGRAM, ANY),
+    "choices": (DOCUMENT, PROGRAM),
+    "is_maker": (DOCUMENT, PROGRAM, ANY),
+    "maker_of": (DOCUMENT, PROGRAM, CHOICES, ("options", [0, "none"], (None, [1], [False], "none", ["left"]), "BadOptions")),
+    "places": (PROGRAM, ("kind", "fill", (None, "width", 1, ["fill"]), "BadKind")),
+    "placed": (PROGRAM, ("part", "p", (None, "q", "x", ["p"], "", 1), "BadPart")),
+    "moves": (DOCUMENT, PROGRAM, CHOICES, STANDINGS),
+    "standings": (DOCUMENT, PROGRAM, CHOICES),
+    "events_of": (DOCUMENT, PROGRAM, CHOICES, STANDINGS),
+    "run": RUN,
+    "requests": RUN,
+    "lot_behind": (DOCUMENT, PROGRAM, CHOICES, ("events", (("asked", 1),), NO_EVENTS, "BadEvents")),
+    "comes": (DOCUMENT, PROGRAM, SHOWING),
+    "is_coming": (DOCUMENT, PROGRAM, SHOWING, ANY),
+    "sheet": (DOCUMENT, PROGRAM),
+    "first_apart": (DOCUMENT, PROGRAM, ("other", THING, NO_PROGRAM, "BadProgram")),
+    "least_lots": (DOCUMENT, PROGRAM, GOAL),
+    "least_bans": (DOCUMENT, PROGRAM, GOAL),
+    "widest": (DOCUMENT, PROGRAM, GOAL),
+    "bases": (DOCUMENT, PROGRAM),
+    "swallowed": (DOCUMENT,),
+    "right_program": (DOCUMENT, OLD, NEW),
+    "are_wrong_runs": (DOCUMENT, OLD, NEW, BASES, ANY),
+    "table": (DOCUMENT, OLD, NEW, BASES, ("other", BASE, NO_BASE + (("right", "up", None, None),), "BadBase")),
+    "is_table": (DOCUMENT, OLD, NEW, BASES, ("other", BASE, NO_BASE + (("right", "up", None, None),), "BadBase"), ANY),
+    "filled": (("context", CONTEXT, NO_CONTEXT, "BadContext"), ("piece", name("x"), NO_PIECE, "BadPiece")),
+    "covers": (DOCUMENT, CHOICES, ("memory", (0,), NO_MEMORY, "BadMemory"), ("lot", [(0,), (None,)], NO_LOT, "BadLot"),
+               ("beside", [], NO_LOT, "BadLot")),
+    "meaning": (DOCUMENT, ("piece", name("x"), NO_PIECE, "BadPiece"), ("names", ("x",), NO_NAMES, "BadNames"), CHOICES,
+                ("memory", (0,), NO_MEMORY + ((), (0, 0)), "BadMemory")),
+    "right_anywhere": (DOCUMENT, ("old", name("x"), NO_PIECE, "BadPiece"), ("new", name("y"), NO_PIECE, "BadPiece")),
+}
+
+
+def function_of(told):
+    for module, rows in FUNCTIONS.items():
+        for row in rows:
+            if row.split("(")[0] == told:
+                return getattr(importlib.import_module("anymaker." + module), told)
+    raise KeyError(told)
+
+
+class RefusalTest(unittest.TestCase):
+    def check(self, told, values, error):
+        with self.assertRaises(errors.MakerError, msg=(told, values)) as caught:
+            function_of(told)(*values)
+        self.assertIs(caught.exception.__class__, getattr(errors, error), (told, values))
+
+    def test_every_function_is_here_or_judges_any_value(self):
+        told = {row.split("(")[0] for rows in FUNCTIONS.values() for row in rows}
+        free = {"is_name", "words_of", "is_expression", "is_program", "is_document", "is_piece", "is_context"}
+        self.assertEqual(told, set(SIGNATURES) | free)
+
+    def test_good_values_are_taken_by_position_and_by_name(self):
+        for told, signature in SIGNATURES.items():
+            values = [one[1] for one in signature]
+            by_position = function_of(told)(*values)
+            self.assertEqual(by_position, function_of(told)(**{one[0]: one[1] for one in signature}), told)
+
+    def test_each_wrong_value(self):
+        for told, signature in SIGNATURES.items():
+            for at, (_, _, wrong, error) in enumerate(signature):
+                for thing in wrong:
+                    values = [one[1] for one in signature]
+                    values[at] = thing
+                    self.check(told, values, error)
+
+    def test_the_first_wrong_parameter_is_told(self):
+        for told, signature in SIGNATURES.items():
+            for at, (_, _, wrong, error) in enumerate(signature):
+                for later in range(at + 1, len(signature)):
+                    for thing in wrong[:3]:
+                        for other in signature[later][2][:3]:
+                            values = [one[1] for one in signature]
+                            values[at] = thing
+                            values[later] = other
+                            self.check(told, values, error)
+
+    def test_nothing_that_is_passed_is_changed(self):
+        for told, signature in SIGNATURES.items():
+            values = [one[1] for one in signature]
+            kept = copy.deepcopy(values)
+            one = function_of(told)(*values)
+            self.assertEqual(values, kept, told)
+            self.assertEqual(one, function_of(told)(*values), told)
+
+    def test_judging_functions_take_any_value(self):
+        from tests.nearly import STRANGE
+        for told, signature in SIGNATURES.items():
+            if signature[-1] == ANY:
+                for thing in STRANGE + (("comes",), ("comes", 1, 2), ("not", ()), ("not", 1), ((),), (((),),), ((1, 2, 3),)):
+                    values = [one[1] for one in signature[:-1]] + [thing]
+                    self.assertIs(function_of(told)(*values), False, (told, thing))
+        for told in ("is_name", "is_expression", "is_program", "is_document", "is_piece", "is_context"):
+            for thing in STRANGE:
+                self.assertIs(function_of(told)(thing), told == "is_name" and thing == "x", (told, thing))
+
+
+class TooManyTest(unittest.TestCase):
+    """TooMany is raised behind all other errors."""
+
+    def check(self, told, *values):
+        with self.assertRaises(errors.TooMany, msg=told) as caught:
+            function_of(told)(*values)
+        self.assertEqual(caught.exception.most, 400)
+
+    def test_more_than_400_choices(self):
+        one = program(ONE)
+        self.check("choices", WIDE, SUMS)
+        self.check("bases", WIDE, SUMS)
+        self.check("comes", WIDE, SUMS, ((), "ends"))
+        self.check("is_coming", WIDE, SUMS, ((), "ends"), None)
+        self.check("sheet", WIDE, SUMS)
+        for pair in ((SUMS, one), (one, SUMS), (SUMS, SUMS)):
+            self.check("first_apart", WIDE, *pair)
+            self.check("right_program", WIDE, *pair)
+            self.check("are_wrong_runs", WIDE, *pair, (("left",) * 8, "up", None, None), ())
+            self.check("table", WIDE, *pair, (("left",) * 8, "up", None, None), (("left",) * 8, "up", None, None))
+            self.check("is_table", WIDE, *pair, (("left",) * 8, "up", None, None), (("left",) * 8, "up", None, None), ())
+        for told in ("least_lots", "least_bans", "widest"):
+            self.check(told, WIDE, SUMS, "ends")
+
+    def test_other_errors_come_first(self):
+        for told, values, error in (
+                ("choices", (None, SUMS), "BadDocument"), ("bases", (WIDE, None), "BadProgram"),
+                ("comes", (WIDE, SUMS, None), "BadShowing"), ("is_coming", (WIDE, SUMS, None, 1), "BadShowing"),
+                ("first_apart", (WIDE, SUMS, None), "BadProgram"), ("least_bans", (WIDE, SUMS, None), "BadGoal"),
+                ("right_program", (WIDE, SUMS, None), "BadProgram"),
+                ("are_wrong_runs", (WIDE, SUMS, None, 1, 1), "BadProgram")):
+            with self.assertRaises(getattr(errors, error)):
+                function_of(told)(*values)
+
+    def test_functions_of_one_choice_do_not_count(self):
+        choice = (("left",) * 8, "up", 0, 1)
+        self.assertGreater(len(function_of("standings")(WIDE, SUMS, choice)), 8)
+        self.assertTrue(function_of("is_choice")(WIDE, SUMS, choice))
+        self.assertEqual(function_of("run")(WIDE, SUMS, ("maker", choice, ((),)), (), 1), ((), "ends"))
+        self.assertEqual(len(function_of("lot_behind")(WIDE, SUMS, choice, ())),
+                         len(function_of("standings")(WIDE, SUMS, choice)))
+
+
+class ScopeTest(unittest.TestCase):
+    """BadScope is raised directly behind BadDocument."""
+
+    def test_the_first_kind_is_told(self):
+        for told in ("covers", "meaning", "right_anywhere"):
+            for given, kind in ((document(order=("part", ("left",))), "order"), (document(walk=("place", ("up",))), "walk"),
+                                (document(fill=("part", (0,))), "fill"),
+                                (document(walk=("part", ("up",)), fill=("place", (0,))), "walk"),
+                                (document(order=("place", ("left",)), fill=("part", (0,))), "order")):
+                values = [given] + [None] * (len(SIGNATURES[told]) - 1)
+                with self.assertRaises(errors.BadScope) as caught:
+                    function_of(told)(*values)
+                self.assertEqual(caught.exception.kind, kind)
+
+    def test_no_document_comes_first(self):
+        for told in ("covers", "meaning", "right_anywhere"):
+            with self.assertRaises(errors.BadDocument):
+                function_of(told)(*[None] * len(SIGNATURES[told]))
+
+
+if __name__ == "__main__":
+    unittest.main()
