@@ -52,7 +52,7 @@ def reads_as(name, number):
 
 def wished(document, choice, spare, body):
     """Does the body where the choice is this one, and otherwise ends without a show."""
-    tests = [test for test in tests_of(document, choice, spare)]
+    tests = tests_of(document, choice, spare)
     if tests:
         body = ("then", ("show", ("number", 1)), body)
     for test, is_true in tests[::-1]:
@@ -61,15 +61,17 @@ def wished(document, choice, spare, body):
 
 
 def tests_of(document, choice, spare):
-    """Pairs of an expression and whether it is to be true, for what a choice leaves to a program or run.
+    """Pairs of an expression and whether it is to be true, for what is chosen ahead of all answers.
 
     The fill is told by the spare variable as long as it is not set, so it stands ahead of
     order and walk, and behind the width, by which it is taken.
     """
     tests = []
     order, walk, fill, width = choice
-    if is_left_open(document, "width"):
+    widths = options_of(document, "width")
+    if is_left_open(document, "width") and 1 in widths:
         tests.append((("number", 2), width > 1))
+    if 2 in widths and 3 in widths:
         tests.append((("number", 4), width > 2))
     if is_left_open(document, "fill"):
         tests.append((reads_as(spare, fill), True))
@@ -83,7 +85,9 @@ def tests_of(document, choice, spare):
 
 
 def is_left_open(document, kind):
-    return scope_of(document, kind) in ("program", "run") and len(options_of(document, kind)) > 1
+    """A fill that may be "none" cannot be looked at; "none" is let here only if it is so for ever."""
+    options = options_of(document, kind)
+    return scope_of(document, kind) != "anew" and len(options) > 1 and "none" not in options
 
 
 def looks_at(fills, names, memory, lot, beside):

@@ -58,7 +58,8 @@ def told_lots(document, masks):
     """Lots as they are told: fewer pairs first, then pair by pair."""
     pairs = pairs_of(document)
     lots = [tuple([rank for rank in range(len(pairs)) if mask & 1 << rank]) for mask in masks]
-    return tuple([tuple([pairs[rank] for rank in lot]) for lot in sorted(lots, key=lambda lot: (len(lot), lot))])
+    lots = sorted(lots, key=lambda ranks: (len(ranks), ranks))
+    return tuple([tuple([pairs[rank] for rank in lot]) for lot in lots])
 
 
 def least_of(masks):
