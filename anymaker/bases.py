@@ -28,8 +28,7 @@ def is_base(document, program, thing):
 
 def agree(document, one, other):
     """Whether bases of two programs are equal in the kinds that are chosen once for ever."""
-    pairs = zip(KINDS, one, other)
-    return all([item == beside for kind, item, beside in pairs if scope_of(document, kind) == "ever"])
+    return all([one[at] == other[at] for at, kind in enumerate(KINDS) if scope_of(document, kind) == "ever"])
 
 
 def extending(document, program, base):

@@ -66,7 +66,7 @@ def state_row(document, option, state):
     row = []
     for kind in anew_kinds(document):
         given = options_of(document, kind)[0]
-        if option is not None and option in OPTIONS[kind]:
+        if option in OPTIONS[kind]:
             given = option
         row.append((given, state))
     return tuple(row)

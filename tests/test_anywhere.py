@@ -174,6 +174,16 @@ class FactTest(Case):
             new = ("if", BIT, then(put("y", ZERO), ONE), then(show(ONE), put("y", ZERO), ONE))
             self.assertEqual(self.answer(told, old, new), right)
 
+    def test_items_that_read_alike_do_not_tell(self):
+        for fill, old, new in (
+                (("run", (0,)), then(put("v", ZERO), put("w", ZERO), ONE), then(put("v", ONE), ONE)),
+                (("run", (0,)), then(put("w", ZERO), put("v", ZERO), ONE), then(put("w", ONE), ONE)),
+                (("anew", (0, 1)), then(put("v", ZERO), ONE), then(put("v", ONE), put("w", ONE), ONE)),
+                (("anew", (0, 1)), then(put("w", ZERO), ONE), then(put("w", ONE), put("v", ONE), ONE)),
+                (("anew", (0, 1)), then(put("v", ONE), put("w", ONE), ONE), then(put("v", ONE), ONE))):
+            for ruin in ("ahead", "whole"):
+                self.assertFalse(self.answer(document(fill=fill, ruin=ruin), old, new))
+
     def test_right_for_itself(self):
         for piece in (BIT, SWAY, name("x"), ("over", name("x"), name("y")), ("while", name("x"), show(name("y")))):
             for fill in ((0,), (0, 1), (1, "none")):

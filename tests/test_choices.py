@@ -81,6 +81,11 @@ class ChoiceTest(unittest.TestCase):
                         ("run", (1, 2)))
         self.assertEqual(len(choices(told, program(body))), 400)
 
+    def test_what_is_anew_does_not_count(self):
+        thing = program(then(*[("plus", name("x"), ONE)] * 8))
+        told = document(("place", ("left", "right")), ("anew", ("up", "down")), ("anew", (0, 1, 2, 3, "none")))
+        self.assertEqual(len(choices(told, thing)), 256)
+
     def test_choices_are_choices_and_nearly_ones_are_not(self):
         told = document(("part", ("left", "right")), ("anew", ("up", "down")), ("place", (0, 1, "none")), ("ever", (1, 2)))
         every = choices(told, TWO_PARTS)

@@ -14,6 +14,7 @@ from tests.test_tables import cases
 
 ONE, ZERO = number(1), number(0)
 BASE = (None, None, None, None)
+BOTH = ("left", "right")
 CRASH = ("over", ONE, ZERO, "left")
 
 
@@ -196,6 +197,15 @@ class WrongRunsTest(unittest.TestCase):
             word, base, runs = right_program(told, old, thing)
             self.assertEqual(word, "wrong")
             self.assertTrue(model_wrong_runs(told, old, thing, base, runs))
+
+    def test_a_round_by_a_later_choice(self):
+        told = document(("run", BOTH), fill=("anew", (0, 1)))
+        old = program(show(ONE), ("x", "y"))
+        new = program(("if", BIT, show(ONE), then(show(ONE), name("x"), ("while", ("name", "x", 1), name("x")))), ("x", "y"))
+        word, base, runs = right_program(told, old, new)
+        self.assertEqual(word, "wrong")
+        self.assertTrue(model_wrong_runs(told, old, new, base, runs))
+        self.assertEqual(run(told, new, *runs[0]), ((("shown", 1),), "never"))
 
     def test_nearly_right(self):
         checked = {True: 0, False: 0}
