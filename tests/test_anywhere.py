@@ -174,6 +174,30 @@ class FactTest(Case):
             new = ("if", BIT, then(put("y", ZERO), ONE), then(show(ONE), put("y", ZERO), ONE))
             self.assertEqual(self.answer(told, old, new), right)
 
+    def test_each_fault_alone(self):
+        told = document(order=("anew", BOTH))
+        whole = document(order=("anew", BOTH), ruin="whole")
+        for one in (told, whole):
+            for old, new in ((then(put("y", ZERO), ZERO), ("while", BIT, ONE)), (ONE, ("while", ONE, ONE)),
+                             (ONE, ("over", ONE, ZERO)), (ONE, show(ONE)), (show(ONE), ONE), (("while", ONE, ONE), ONE),
+                             (ONE, ZERO), (show(ONE), show(ZERO)), (then(show(ONE), ONE), then(show(ONE), ZERO)),
+                             (then(show(ONE), ONE), then(show(ONE), ("while", ONE, ONE))),
+                             (then(show(ONE), ONE), then(show(ONE), ("over", ONE, ZERO)))):
+                self.assertFalse(self.answer(one, old, new))
+            self.assertTrue(self.answer(one, ("while", BIT, ONE), then(put("y", ZERO), ZERO)))
+            self.assertTrue(self.answer(one, ("over", ONE, ZERO), ("while", ONE, show(ONE))))
+
+    def test_several_items_to_peel(self):
+        """Only where it puts 1 into v, old sets w."""
+        bit = then(("plus", put("z", ZERO), put("z", ONE)), name("z"))
+        one = ("if", bit, then(put("v", ZERO), ZERO), then(put("v", ONE), put("w", ONE), ZERO))
+        end = then(put("z", ZERO), ZERO)
+        for ruin in ("ahead", "whole"):
+            told = document(("anew", BOTH), fill=("run", ("none",)), ruin=ruin)
+            for rows, right in (([put("v", ONE)], False), ([put("v", ZERO)], True), ([put("v", ONE), put("w", ONE)], True),
+                                ([put("v", ONE), put("w", ZERO)], False), ([put("v", ZERO), put("w", ZERO)], False), ([], False)):
+                self.assertEqual(self.answer(told, then(one, end), then(*rows, end)), right, rows)
+
     def test_items_that_read_alike_do_not_tell(self):
         for fill, old, new in (
                 (("run", (0,)), then(put("v", ZERO), put("w", ZERO), ONE), then(put("v", ONE), ONE)),

@@ -100,6 +100,16 @@ class ComingTest(unittest.TestCase):
             self.assertTrue(self.both(told, thing, ((), end)))
         self.assertFalse(self.both(told, thing, ((), "ends")))
 
+    def test_rounds_by_options_that_are_not_the_first(self):
+        told = document(("anew", ("left", "right")), fill=("anew", (0, 1)))
+        bit = then(("plus", put("y", number(0)), put("y", ONE)), name("y"))
+        for body in (("while", name("x"), ONE), then(name("x"), ("while", name("x"), name("x"))),
+                     ("while", ("same", bit, number(0), "left"), number(0)),
+                     then(bit, ("while", ("plus", name("x"), ("same", bit, number(0), "left"), "left"), ONE))):
+            thing = program(body, ("x", "y"))
+            self.assertTrue(self.both(told, thing, ((), "never")))
+            self.assertTrue(self.both(told, thing, ((), "ends")))
+
     def test_many_against_all_showings(self):
         found = set()
         for told, thing in small_cases(23, 40, 50):
@@ -151,6 +161,20 @@ class IsComingTest(unittest.TestCase):
         word, chains = comes(document(), thing, away)
         self.assertFalse(is_coming(document(), thing, away, (word, (list(chains[0]),))))
         self.assertFalse(is_coming(document(), thing, away, (word, (tuple(list(lot) for lot in chains[0]),))))
+
+    def test_wrong_inputs(self):
+        thing = program(ASK)
+        for showing, good in ((((("asked", 1),), "ends"), (1,)), (((), "waits"), ())):
+            word, maker, inputs = comes(document(), thing, showing)
+            self.assertEqual(tuple(inputs), good)
+            for bad in ((8,), (-1,), (True,), ("1",), (None,)):
+                for other in (good[:0] + bad, good + bad, list(good) + list(bad)):
+                    self.assertIs(is_coming(document(), thing, showing, (word, maker, other)), False)
+            for bad in (None, 1, "1", {1: 1}, {1}):
+                self.assertIs(is_coming(document(), thing, showing, (word, maker, bad)), False)
+        more = (word, maker, good + (3,))
+        self.assertFalse(is_coming(document(), thing, ((), "waits"), more))
+        self.assertTrue(is_coming(document(), thing, ((("asked", 3),), "ends"), more))
 
     def test_lots_may_stand_in_any_sequence_and_have_more(self):
         thing = program(then(show(ONE), ONE))

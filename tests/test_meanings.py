@@ -119,6 +119,15 @@ class MeaningTest(unittest.TestCase):
         self.assertEqual(found[0][3], ((("shown", 0), 1), (("shown", 1), 1)))
         self.assertEqual(len(found), 3)
 
+    def test_a_row_that_leads_to_row_0(self):
+        told = document(fill=("anew", (0, 1)))
+        piece = ("while", ONE, ("if", name("x"), show(ONE), ONE))
+        found = meaning(told, piece, ("x",), ("left", "up", None, 1), (None,))
+        self.assertEqual(found, (("so", True, (), ((("shown", 1), 0),)),))
+        piece = ("while", ONE, ("if", name("x"), then(show(ONE), show(ZERO), ONE), ONE))
+        found = meaning(told, piece, ("x",), ("left", "up", None, 1), (None,))
+        self.assertEqual(found, (("so", True, (), ((("shown", 1), 1),)), ("so", False, (), ((("shown", 0), 0),))))
+
     def test_many(self):
         maker = Maker(61)
         words = set()

@@ -198,6 +198,15 @@ class WrongRunsTest(unittest.TestCase):
             self.assertEqual(word, "wrong")
             self.assertTrue(model_wrong_runs(told, old, thing, base, runs))
 
+    def test_rounds_by_options_that_are_not_the_first(self):
+        told = document(("anew", BOTH), fill=("anew", (0, 1)))
+        for old, new in ((show(ONE), then(show(ONE), name("x"), ("while", name("x"), name("x")))),
+                         (ONE, ("while", ("same", BIT, ZERO, "left"), ZERO)), (ONE, then(BIT, ("while", name("x"), ONE)))):
+            answer = right_program(told, program(old, ("x", "y")), program(new, ("x", "y")))
+            self.assertEqual(answer[0], "wrong")
+            self.assertTrue(model_wrong_runs(told, program(old, ("x", "y")), program(new, ("x", "y")), *answer[1:]))
+            self.assertEqual(run(told, program(new, ("x", "y")), *answer[2][0])[1], "never")
+
     def test_a_round_by_a_later_choice(self):
         told = document(("run", BOTH), fill=("anew", (0, 1)))
         old = program(show(ONE), ("x", "y"))
