@@ -136,7 +136,9 @@ class FactTest(Case):
                     (document(order=(scope, BOTH)), BIT, (then(put("y", ONE), ONE), then(put("y", ZERO), ZERO))),
                     (document(walk=(scope, ("up", "down"))), SWAY, (then(put("y", ONE), ONE), then(put("y", ZERO), ZERO))),
                     (document(fill=(scope, (0, 1))), name("x"), (ZERO, ONE)),
-                    (document(width=(scope, (1, 2, 3))), number(7), (ONE, number(3)))):
+                    (document(width=(scope, (1, 2, 3))), number(7), (ONE, number(3))),
+                    (document(width=(scope, (1, 3))), number(7), (ONE, number(3))),
+                    (document(width=(scope, (2, 3))), number(7), (ONE, number(3)))):
                 for ruin in ("ahead", "whole"):
                     for new in news:
                         self.assertFalse(self.answer(told[:5] + (ruin,), old, new))
@@ -197,6 +199,14 @@ class FactTest(Case):
             for rows, right in (([put("v", ONE)], False), ([put("v", ZERO)], True), ([put("v", ONE), put("w", ONE)], True),
                                 ([put("v", ONE), put("w", ZERO)], False), ([put("v", ZERO), put("w", ZERO)], False), ([], False)):
                 self.assertEqual(self.answer(told, then(one, end), then(*rows, end)), right, rows)
+
+    def test_what_goes_of_the_memories_beside(self):
+        bit = then(("plus", put("z", ZERO), put("z", ONE)), name("z"))
+        end = then(put("z", ZERO), ZERO)
+        told = document(("anew", BOTH), fill=("run", ("none",)), ruin="whole")
+        for beside, right in ((ZERO, False), (ONE, True)):
+            old = ("if", bit, then(show(ONE), put("v", beside), end), then(put("v", ONE), put("w", bit), end))
+            self.assertEqual(self.answer(told, old, then(put("v", ONE), end)), right)
 
     def test_items_that_read_alike_do_not_tell(self):
         for fill, old, new in (

@@ -109,6 +109,9 @@ class ComingTest(unittest.TestCase):
             thing = program(body, ("x", "y"))
             self.assertTrue(self.both(told, thing, ((), "never")))
             self.assertTrue(self.both(told, thing, ((), "ends")))
+            shown = program(then(name("x"), bit, show(ONE), body), ("x", "y"))
+            self.assertTrue(self.both(told, shown, ((("shown", 1),), "never")))
+            self.assertTrue(self.both(told, shown, ((("shown", 1),), "ends")))
 
     def test_many_against_all_showings(self):
         found = set()

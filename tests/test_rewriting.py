@@ -201,6 +201,9 @@ class WrongRunsTest(unittest.TestCase):
     def test_rounds_by_options_that_are_not_the_first(self):
         told = document(("anew", BOTH), fill=("anew", (0, 1)))
         for old, new in ((show(ONE), then(show(ONE), name("x"), ("while", name("x"), name("x")))),
+                         (then(name("x"), show(ONE)), then(name("x"), show(ONE), ("while", name("x"), ONE))),
+                         (ONE, then(name("x"), name("x"), ("while", name("x"), name("x")))),
+                         (then(BIT, show(ONE)), then(BIT, show(ONE), name("x"), ("while", name("x"), name("x")))),
                          (ONE, ("while", ("same", BIT, ZERO, "left"), ZERO)), (ONE, then(BIT, ("while", name("x"), ONE)))):
             answer = right_program(told, program(old, ("x", "y")), program(new, ("x", "y")))
             self.assertEqual(answer[0], "wrong")
@@ -227,6 +230,24 @@ class WrongRunsTest(unittest.TestCase):
                 self.assertIs(are_wrong_runs(told, old, new, answer[1], thing), expected, (told, old, new, thing))
                 checked[expected] += 1
         self.assertGreater(min(checked.values()), 100)
+
+    def test_runs_that_are_free(self):
+        """Behind 1 old is ruined once it has shown 1; behind 0 new shows what old does not."""
+        old = program(("if", ASK, then(show(ONE), CRASH), ONE))
+        new = program(("if", ASK, then(show(ONE), show(ONE)), show(ZERO)))
+        maker = ("maker", ("left", "up", 0, 1), ((),))
+        for ruin in ("ahead", "whole"):
+            told = document(ruin=ruin)
+            for inputs, most, wrong in (((0,), 9, True), ((0,), 2, True), ((0,), 1, True), ((0,), 0, False), ((1,), 9, False),
+                                        ((1,), 3, False), ((1,), 2, False), ((), 9, False), ([2, 5], 200, True)):
+                found = are_wrong_runs(told, old, new, BASE, ((maker, inputs, most),))
+                self.assertIs(found, wrong, (ruin, inputs, most))
+                self.assertIs(model_wrong_runs(told, old, new, BASE, ((maker, inputs, most),)), wrong)
+
+    def test_bounds_are_at_most_200(self):
+        maker = ("maker", ("left", "up", 0, 1), ((),))
+        for most, good in ((200, True), (201, False), (-1, False), (True, False), (None, False)):
+            self.assertIs(are_wrong_runs(document(), program(ONE), program(show(ONE)), BASE, ((maker, (), most),)), good)
 
     def test_other_bases(self):
         told = document(order=("ever", ("left", "right")))
