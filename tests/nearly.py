@@ -1,6 +1,6 @@
 """Values that are nearly a given one: one part anywhere is changed, left out or doubled."""
 
-STRANGE = (None, True, False, -1, 0, 1, 8, 10 ** 9, "", "x", "none", b"x", (), [], {}, (1,), [1], (("x",),), object())
+STRANGE = (None, True, False, -1, 0, 1, 8, 10 ** 9, "", "x", "none", b"x", (), [], {}, (1,), [1], (("x",),), ([],), ({}, 1), [[]], object())
 
 
 def nearly(thing):

@@ -208,6 +208,15 @@ class FactTest(Case):
             old = ("if", bit, then(show(ONE), put("v", beside), end), then(put("v", ONE), put("w", bit), end))
             self.assertEqual(self.answer(told, old, then(put("v", ONE), end)), right)
 
+    def test_what_stays_of_the_memories_beside(self):
+        """Old leaves w unset where it has shown 1: so w must not be looked at."""
+        bit = then(("plus", put("v", ZERO), put("v", ONE)), name("v"))
+        told = document(("anew", BOTH), fill=("run", ("none",)), ruin="whole")
+        old = ("if", bit, then(show(ONE), put("v", ONE), put("x", ZERO), ZERO),
+               then(put("v", ONE), put("w", ONE), put("x", ONE), ZERO))
+        self.assertFalse(self.answer(told, old, then(put("v", ONE), put("x", ZERO), ZERO)))
+        self.assertTrue(self.answer(told, old, then(put("v", ONE), put("w", ONE), put("x", ONE), ZERO)))
+
     def test_items_that_read_alike_do_not_tell(self):
         for fill, old, new in (
                 (("run", (0,)), then(put("v", ZERO), put("w", ZERO), ONE), then(put("v", ONE), ONE)),
