@@ -109,7 +109,7 @@ def tells(fills, memory, other, at):
         return False
     if len(fills) == 1:
         return (fills[0] if mine is None else mine) != (fills[0] if beside is None else beside)
-    return mine is None or beside is not None or mine not in fills
+    return beside is not None or mine not in fills
 
 
 def numbers_read(fills, worth):

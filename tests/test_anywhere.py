@@ -22,6 +22,11 @@ def names_of(*pieces):
     return tuple(sorted({node[1] for piece in pieces for node in nodes_of(piece) if node[0] in ("name", "set", "each")}))
 
 
+def by_width(one, two, three):
+    """What it is at each of the three widths."""
+    return ("if", number(4), three, ("if", number(2), two, one))
+
+
 def model_tables(told, old, new):
     """The tables by [78], from meanings; None if they tell that new is wrong."""
     inner = swallowed(told)
@@ -138,7 +143,9 @@ class FactTest(Case):
                     (document(fill=(scope, (0, 1))), name("x"), (ZERO, ONE)),
                     (document(width=(scope, (1, 2, 3))), number(7), (ONE, number(3))),
                     (document(width=(scope, (1, 3))), number(7), (ONE, number(3))),
-                    (document(width=(scope, (2, 3))), number(7), (ONE, number(3)))):
+                    (document(width=(scope, (2, 3))), number(7), (ONE, number(3))),
+                    (document(width=(scope, (1, 2, 3))), ONE, (by_width(ZERO, ONE, ONE), by_width(ONE, ZERO, ONE),
+                                                               by_width(ONE, ONE, ZERO)))):
                 for ruin in ("ahead", "whole"):
                     for new in news:
                         self.assertFalse(self.answer(told[:5] + (ruin,), old, new))

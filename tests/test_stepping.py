@@ -226,6 +226,7 @@ class StandingFormTest(unittest.TestCase):
                      ("call", "q"), ("call", "body"), ("hole",), ("name", "x", 4), ("name", "x", "none"),
                      ("plus", ONE, ONE, ("body", [1])), ("plus", ONE, ONE, ("body", (True,))), ("each", "x", 2, 0, ONE, "up"),
                      ("each", "x", -1, 0, ONE, "up"), ("each", "x", 0, 8, ONE, "up"), ("each", "x", 9, 8, ONE, "up"),
+                     ("name", ["x"], 0), ("name", [], ("body", (1, 1))), ("each", {}, 0, 1, ONE, "up"), ([], ONE), put([], ONE),
                      ("each", "x", 0, -2, ONE, "up"), ("each", "z", 0, 1, ONE, "up"), ("minus", ONE, ONE, ("body", (2,)))):
             self.assertFalse(self.accepts((rest, (None, None))), rest)
         for memory in ((None,), (None, None, None), [None, None], (2, None), (True, None), (-1, 0), None, ("0", 0)):
