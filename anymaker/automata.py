@@ -1,29 +1,35 @@
 """Least automata: rows with heads, and ways from row to row."""
 
 
-def least_rows(heads, goes):
-    """The least rows, numbered as they are met from row 0 on, as pairs (head, ways).
+def least_rows(heads, goes, begin=0):
+    """The least rows, numbered as they are met from a row on, as pairs (head, ways).
 
-    heads has a key for each row, goes a list of pairs (event, row); all rows come.
+    heads has a key for each row, goes a list of pairs (event, row).
     """
     classes = classes_of(heads, goes)
     first = {}
     for row, one in enumerate(classes):
         first.setdefault(one, row)
-    met = {classes[0]: 0}
-    pending = [classes[0]]
+    places = met_from(classes[begin], {one: [classes[reached] for _, reached in goes[first[one]]] for one in first})
     found = []
-    while len(found) < len(pending):
-        row = first[pending[len(found)]]
-        ways = []
-        for event, reached in goes[row]:
-            one = classes[reached]
-            if one not in met:
-                met[one] = len(pending)
-                pending.append(one)
-            ways.append((event, met[one]))
-        found.append((heads[row], tuple(ways)))
+    for one in places:
+        ways = tuple([(event, places[classes[reached]]) for event, reached in goes[first[one]]])
+        found.append((heads[first[one]], ways))
     return found
+
+
+def met_from(begin, nexts):
+    """The dict of all that come from one on, in the sequence in which they are met, to their numbers."""
+    places = {begin: 0}
+    pending = [begin]
+    at = 0
+    while at < len(pending):
+        for reached in nexts[pending[at]]:
+            if reached not in places:
+                places[reached] = len(pending)
+                pending.append(reached)
+        at += 1
+    return places
 
 
 def classes_of(heads, goes):

@@ -86,7 +86,12 @@ def has_round(machine, numbers):
 
 
 def round_from(machine, number, endless):
-    """The answers on a silent way that never ends, and the index of the one behind which they come again.
+    """The answers on a silent way that never ends, and the index of the one behind which they come again."""
+    return round_along({one: answers_of(machine, one) for one in endless}, number, endless)
+
+
+def round_along(ways, number, endless):
+    """The same by the pairs of an answer, or None, and a number that ways has for each number of endless.
 
     The index is None if nothing is asked for on the round.
     """
@@ -94,7 +99,7 @@ def round_from(machine, number, endless):
     seen = {}
     while number not in seen:
         seen[number] = len(answers)
-        option, number = [pair for pair in answers_of(machine, number) if pair[1] in endless][0]
+        option, number = [pair for pair in ways[number] if pair[1] in endless][0]
         if option is not None:
             answers.append(option)
     again = seen[number]

@@ -120,12 +120,13 @@ def few_standings(document, program, most):
         return False
 
 
-def small_cases(seed, many, most, **told):
+def small_cases(seed, many, most, scopes=None, **told):
     """So many pairs of a document and a program that have few standings."""
     maker = Maker(seed)
     found = []
     while len(found) < many:
-        pair = (maker.document(), maker.program(**told))
+        ruling = maker.document() if scopes is None else maker.document(scopes)
+        pair = (ruling, maker.program(**told))
         if few_standings(*pair, most):
             found.append(pair)
     return found
