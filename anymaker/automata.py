@@ -24,11 +24,12 @@ def met_from(begin, nexts):
     pending = [begin]
     at = 0
     while at < len(pending):
-        for reached in nexts[pending[at]]:
+        behind = nexts[pending[at]]
+        at += 1
+        for reached in behind:
             if reached not in places:
                 places[reached] = len(pending)
                 pending.append(reached)
-        at += 1
     return places
 
 

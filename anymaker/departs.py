@@ -83,7 +83,7 @@ class Beside:
 
     def __init__(self, document, program, maker, showing):
         self.document = document
-        self.maker = maker
+        self.told_maker = maker
         self.events = showing[0]
         self.end = showing[1]
         self.machine = Machine(Ground(document, program), maker[1])
@@ -96,7 +96,7 @@ class Beside:
         state, at, number = item
         step = self.machine.step(number)
         if step[0] == "chooses":
-            told, after = answer_of(self.document, self.maker, state, step[1])
+            told, after = answer_of(self.document, self.told_maker, state, step[1])
             pairs = answers_of(self.machine, number)
             return [((after, at, reached), 1 if option != told else 0, option) for option, reached in pairs]
         found = [((state, at, reached), 0, None) for reached in silent_nexts(step)]
@@ -112,7 +112,7 @@ class Beside:
         if at < len(self.events) or not makes_end(step, self.end):
             return None
         if self.end == "ruined" and step[0] == "chooses":
-            return 0 if answer_of(self.document, self.maker, state, step[1])[0] == "none" else 1
+            return 0 if answer_of(self.document, self.told_maker, state, step[1])[0] == "none" else 1
         return 0
 
     def fill(self):
@@ -152,7 +152,7 @@ class Beside:
         inputs = asked_in(self.events)
         if self.end == "more" and step[0] == "asks":
             inputs = inputs + (0,)
-        return (most, maker_along(self.document, self.maker[1], answers, None), inputs)
+        return (most, maker_along(self.document, self.told_maker[1], answers, None), inputs)
 
     def answers_to(self, item):
         answers = []
@@ -168,7 +168,7 @@ class Beside:
         """Whether any value is an item of a floor by its form."""
         if not is_row(thing, 4) or not is_number(thing[3]) or thing[3] < 0:
             return False
-        if not is_between(thing[0], 0, len(self.maker[2]) - 1) or not is_between(thing[1], 0, len(self.events)):
+        if not is_between(thing[0], 0, len(self.told_maker[2]) - 1) or not is_between(thing[1], 0, len(self.events)):
             return False
         return self.machine.ground.is_standing(self.machine.size, thing[2])
 

@@ -97,7 +97,7 @@ def is_bar_by(machine, goal, ban, thing):
     if thing[0] != machine.choice or lot is None or machine.begin() not in lot:
         return False
     for number in lot:
-        behind = [way[3] for way in free_ways(machine, number, ban) if way[3] is not None]
+        behind = [one[3] for one in free_ways(machine, number, ban) if one[3] is not None]
         if not all([reached in lot for reached in behind]):
             return False
     if goal == "never":

@@ -27,6 +27,21 @@ FUNCTIONS = {
     "sheets": ("sheet(document, program)", "first_apart(document, program, other)"),
     "goals": ("least_lots(document, program, goal)", "least_bans(document, program, goal)",
               "widest(document, program, goal)"),
+    "ways": ("way(document, program, goal, lot)", "barred(document, program, goal, ban)",
+             "is_way(document, program, goal, lot, thing)", "is_bar(document, program, goal, ban, thing)"),
+    "departs": ("departed(document, program, maker, other, inputs, most)", "departures(document, program, maker, showing)",
+                "floor(document, program, maker, showing, many)",
+                "is_floor(document, program, maker, showing, many, thing)"),
+    "remains": ("remaining(document, program, events)",),
+    "ruins": ("ruin(document, program)",),
+    "terms": ("is_terms(thing)",),
+    "befores": ("before(terms, names, piece, ends)",),
+    "sureness": ("as_sure(terms, one, other)", "needs(terms, names, piece)"),
+    "guards": ("tests(terms, names, held, piece)", "guard(width, held, lot)"),
+    "aheads": ("set_ahead(program, names, n)", "set_lots(document, program, n)", "ruin_lots(document, program, n)"),
+    "freeds": ("freed(document, program, row)", "is_freed(document, program, row, thing)", "kept_rows(document, program)"),
+    "machines": ("is_machine(thing)", "shown_by(machine, inputs, most)", "least_machine(machine)",
+                 "machine_of(document, program, choice)"),
 }
 PLAIN_ERRORS = (
     "BadBarred BadBase BadChoice BadContext BadContract BadDocument BadEnds BadEvents BadGoal BadGrouping BadHeld "

@@ -41,6 +41,25 @@ NO_CONTEXT = (None, (), program(ONE), list(CONTEXT), ("program", ("x",), (), the
 NO_MEMORY = (None, 1, [0], (2,), (True,), ("0",), (-1,), (None,) * 4, (0, 2))
 NO_NAMES = (None, "x", ["x"], ("y",), ("x", "x"), ("y", "x"), ("x", "body"), ("a", "b", "c", "x"), (), ("x", 1))
 NO_LOT = (None, 1, "x", [()], [(0, 0)], [(2,)], [(True,)], [[0]], {0: 0}, [(0,), None])
+NO_PAIRS = (None, 1, [], [("width", 1)], (("width", 2),), (("width", True),), (("order", "up"),), (("fill", False),),
+            (("width", 1), ("order", "left")), (("order", "right"), ("order", "left")), (("width", 1),) * 2, ("width", 1),
+            (["width", 1],), (("widths", 1),), (("fill", 0, 0),), ((["fill"], 0),), (("fill", [0]),))
+NO_MANY = (None, -1, 201, True, "1", [1], (1,))
+NO_LAST = NO_SHOWING + (((), "never"), ((("shown", 1),), "never"))
+TERMS = (("left", "right"), ("up",), (0, 1, "none"), 1)
+NO_TERMS = (None, (), TERMS[:3], list(TERMS), TERMS[:3] + (4,), TERMS[:3] + (True,), TERMS[1:], ((),) + TERMS[1:],
+            (["left"],) + TERMS[1:], (("right", "left"),) + TERMS[1:], TERMS[:2] + ((False,), 1), TERMS[:2] + (("none", 0), 1))
+NO_OWN_NAMES = (None, "x", ["x", "y"], (), ("x", "x"), ("x", "body"), ("a", "b", "c", "d"), ("x", 1), (["x"],), ("X",))
+NO_PLAIN_PIECE = (None, ONE[:1], ("name", "x", 0), ("call", "p"), ("hole",), ["number", 1], name("z"), put("z", ONE),
+                  ("each", "z", 0, 1, ONE), then(ONE, ("name", "y", 1)), show(("call", "p")))
+NO_ENDS = (None, 1, [], [(0, (0, 0))], ((0, (0,)),), ((2, (0, 0)),), ((0, (0, 2)),), ((0, (0, True)),), ((False, (0, 0)),),
+           ((1, (0, 0)), (0, (0, 0))), ((0, (0, 0)), (0, (None, 0))), ((0, (0, 0)),) * 2, ((0, [0, 0]),), ([0, (0, 0)],))
+NO_SURE = (None, 1, (), [0, 0], (2, 0), (True, 0), ("0", 0), (-1, 0), (None,) * 4)
+NO_HELD = (None, "x", ["x"], ("z",), ("y", "x"), ("x", "x"), ("x", 1), (["x"],), ("body",))
+NO_ROW = (None, 1, [1], [], (8,), (-1,), (True,), ("1",), ((1,),), {1: 1})
+MACHINE = ("machine", (("shows", 1, 1), ("asks", (0, 1) * 4)))
+NO_MACHINE = (None, (), ("machine", ()), ("machine", [("ends",)]), ("machine", (("ends",), ("waits",))), MACHINE[1],
+              ("machine", (("shows", 1, 1),)), ("machine", (("shows", True, 0),)), ("machine", (("asks", (0,) * 7),)))
 
 DOCUMENT = ("document", TOLD, NO_DOCUMENT, "BadDocument")
 PROGRAM = ("program", THING, NO_PROGRAM, "BadProgram")
@@ -54,7 +73,45 @@ GOAL = ("goal", "ends", NO_GOAL, "BadGoal")
 ANY = ("thing", None, (), None)
 RUN = (DOCUMENT, PROGRAM, ("maker", MAKER, NO_MAKER, "BadMaker"), ("inputs", [1, 2], NO_INPUTS, "BadInputs"),
        ("most", 7, NO_MOST, "BadMost"))
+LOT = ("lot", (("order", "left"), ("fill", 0), ("width", 1)), NO_PAIRS, "BadPairs")
+BAN = ("ban", (("order", "left"), ("fill", "none")), NO_PAIRS, "BadPairs")
+MAKERS = ("maker", MAKER, NO_MAKER, "BadMaker")
+LAST = ("showing", ((("asked", 1),), "more"), NO_LAST, "BadShowing")
+MANY = ("many", 1, NO_MANY, "BadMany")
+TERM = ("terms", TERMS, NO_TERMS, "BadTerms")
+OWN_NAMES = ("names", ("x", "y"), NO_OWN_NAMES, "BadNames")
+PLAIN_PIECE = ("piece", ("over", name("y"), name("x")), NO_PLAIN_PIECE, "BadPiece")
+FILLED = ("n", 0, (None, "none", 1, False, -1, 8, "0", [0]), "BadNumber")
 SIGNATURES = {
+    "way": (DOCUMENT, PROGRAM, GOAL, LOT),
+    "is_way": (DOCUMENT, PROGRAM, GOAL, LOT, ANY),
+    "barred": (DOCUMENT, PROGRAM, GOAL, BAN),
+    "is_bar": (DOCUMENT, PROGRAM, GOAL, BAN, ANY),
+    "departed": RUN[:3] + (("other", MAKER, NO_MAKER, "BadMaker"),) + RUN[3:],
+    "departures": (DOCUMENT, PROGRAM, MAKERS, LAST),
+    "floor": (DOCUMENT, PROGRAM, MAKERS, LAST, MANY),
+    "is_floor": (DOCUMENT, PROGRAM, MAKERS, LAST, MANY, ANY),
+    "remaining": (DOCUMENT, PROGRAM, ("events", (("asked", 1),), NO_EVENTS, "BadEvents")),
+    "ruin": (DOCUMENT, PROGRAM),
+    "before": (TERM, OWN_NAMES, PLAIN_PIECE, ("ends", ((0, (0, 0)), (0, (1, None)), (1, (None, 0))), NO_ENDS, "BadEnds")),
+    "as_sure": (TERM, ("one", (0, 1), NO_SURE, "BadMemory"), ("other", (None, 1), NO_SURE + ((0,), (0, 0, 0)), "BadMemory")),
+    "needs": (TERM, OWN_NAMES, PLAIN_PIECE),
+    "tests": (TERM, OWN_NAMES, ("held", ("y",), NO_HELD, "BadHeld"), PLAIN_PIECE),
+    "guard": (("width", 1, (None, 0, 4, True, "1", [1]), "BadWidth"),
+              ("held", ("y", "x"), (None, "x", ["x"], ("x", "x"), ("a", "b", "c", "d"), ("x", 1), ("body",)), "BadHeld"),
+              ("lot", ((0, 1), (1, 0)), (None, 1, [(0, 1)], ((0,),), ((0, 2),), ((0, True),), ((0, None),), ([0, 1],),
+                                         ((1, 0), (0, 1)), ((0, 1), (0, 1))), "BadLot")),
+    "set_ahead": (PROGRAM, ("names", ("x", "y"), (None, "x", ["x"], ("z",), ("y", "x"), ("x", "x"), ("x", 1)), "BadNames"),
+                  ("n", 7, (None, 8, -1, True, "1", "none", [1]), "BadNumber")),
+    "set_lots": (DOCUMENT, PROGRAM, FILLED),
+    "ruin_lots": (DOCUMENT, PROGRAM, FILLED),
+    "freed": (DOCUMENT, PROGRAM, ("row", (1, 2), NO_ROW, "BadRow")),
+    "is_freed": (DOCUMENT, PROGRAM, ("row", (1, 2), NO_ROW, "BadRow"), ANY),
+    "kept_rows": (DOCUMENT, PROGRAM),
+    "shown_by": (("machine", MACHINE, NO_MACHINE, "BadMachine"), ("inputs", [1, 2], NO_INPUTS, "BadInputs"),
+                 ("most", 7, NO_MOST, "BadMost")),
+    "least_machine": (("machine", MACHINE, NO_MACHINE, "BadMachine"),),
+    "machine_of": (DOCUMENT, PROGRAM, CHOICES),
     "is_choice": (DOCUMENT, PROGRAM, ANY),
     "choices": (DOCUMENT, PROGRAM),
     "is_maker": (DOCUMENT, PROGRAM, ANY),
@@ -105,7 +162,8 @@ class RefusalTest(unittest.TestCase):
 
     def test_every_function_is_here_or_judges_any_value(self):
         told = {row.split("(")[0] for rows in FUNCTIONS.values() for row in rows}
-        free = {"is_name", "words_of", "is_expression", "is_program", "is_document", "is_piece", "is_context"}
+        free = {"is_name", "words_of", "is_expression", "is_program", "is_document", "is_piece", "is_context",
+                "is_terms", "is_machine"}
         self.assertEqual(told, set(SIGNATURES) | free)
 
     def test_good_values_are_taken_by_position_and_by_name(self):
@@ -148,7 +206,8 @@ class RefusalTest(unittest.TestCase):
                 for thing in STRANGE + (("comes",), ("comes", 1, 2), ("not", ()), ("not", 1), ((),), (((),),), ((1, 2, 3),)):
                     values = [one[1] for one in signature[:-1]] + [thing]
                     self.assertIs(function_of(told)(*values), False, (told, thing))
-        for told in ("is_name", "is_expression", "is_program", "is_document", "is_piece", "is_context"):
+        for told in ("is_name", "is_expression", "is_program", "is_document", "is_piece", "is_context", "is_terms",
+                     "is_machine"):
             for thing in STRANGE:
                 self.assertIs(function_of(told)(thing), told == "is_name" and thing == "x", (told, thing))
 
@@ -176,6 +235,19 @@ class TooManyTest(unittest.TestCase):
             self.check("is_table", WIDE, *pair, (("left",) * 8, "up", None, None), (("left",) * 8, "up", None, None), ())
         for told in ("least_lots", "least_bans", "widest"):
             self.check(told, WIDE, SUMS, "ends")
+        for told in ("way", "barred"):
+            self.check(told, WIDE, SUMS, "ends", ())
+        for told in ("is_way", "is_bar"):
+            self.check(told, WIDE, SUMS, "ends", (), None)
+        self.check("remaining", WIDE, SUMS, ())
+        self.check("ruin", WIDE, SUMS)
+        self.check("freed", WIDE, SUMS, ())
+        self.check("is_freed", WIDE, SUMS, (), None)
+        self.check("kept_rows", WIDE, SUMS)
+        loose = document(order=("place", ("left", "right")), fill=("anew", (0, 1)))
+        more = program(then(*[("plus", ONE, ONE)] * 9))
+        for told in ("set_lots", "ruin_lots"):
+            self.check(told, loose, more, 1)
 
     def test_other_errors_come_first(self):
         for told, values, error in (
@@ -183,6 +255,10 @@ class TooManyTest(unittest.TestCase):
                 ("comes", (WIDE, SUMS, None), "BadShowing"), ("is_coming", (WIDE, SUMS, None, 1), "BadShowing"),
                 ("first_apart", (WIDE, SUMS, None), "BadProgram"), ("least_bans", (WIDE, SUMS, None), "BadGoal"),
                 ("right_program", (WIDE, SUMS, None), "BadProgram"),
+                ("way", (WIDE, SUMS, "ends", None), "BadPairs"), ("is_bar", (WIDE, SUMS, None, (), 1), "BadGoal"),
+                ("remaining", (WIDE, SUMS, None), "BadEvents"), ("freed", (WIDE, SUMS, None), "BadRow"),
+                ("set_lots", (WIDE, SUMS, None), "FixedFill"), ("ruin_lots", (WIDE, SUMS, 0), "FixedFill"),
+                ("set_lots", (document(("place", ("left", "right")), fill=("anew", (0,))), SUMS, 1), "BadNumber"),
                 ("are_wrong_runs", (WIDE, SUMS, None, 1, 1), "BadProgram")):
             with self.assertRaises(getattr(errors, error)):
                 function_of(told)(*values)
