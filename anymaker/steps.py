@@ -87,11 +87,11 @@ def has_round(machine, numbers):
 
 def round_from(machine, number, endless):
     """The answers on a silent way that never ends, and the index of the one behind which they come again."""
-    return round_along({one: answers_of(machine, one) for one in endless}, number, endless)
+    return round_along(lambda one: answers_of(machine, one), number, endless)
 
 
-def round_along(ways, number, endless):
-    """The same by the pairs of an answer, or None, and a number that ways has for each number of endless.
+def round_along(ways_at, number, endless):
+    """The same by a function from a number to its pairs of an answer, or None, and a number behind it.
 
     The index is None if nothing is asked for on the round.
     """
@@ -99,7 +99,7 @@ def round_along(ways, number, endless):
     seen = {}
     while number not in seen:
         seen[number] = len(answers)
-        option, number = [pair for pair in ways[number] if pair[1] in endless][0]
+        option, number = [pair for pair in ways_at(number) if pair[1] in endless][0]
         if option is not None:
             answers.append(option)
     again = seen[number]

@@ -111,8 +111,7 @@ class Walk:
             answers.append("none")
         if goal == "never":
             endless = self.endless()
-            ways = {one: silent_ways(self.machine, one, self.banned) for one in endless}
-            more, again = round_along(ways, number, endless)
+            more, again = round_along(lambda one: silent_ways(self.machine, one, self.banned), number, endless)
             again = None if again is None else again + len(answers)
             answers = answers + more
         if is_event(goal):
