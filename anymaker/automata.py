@@ -6,7 +6,11 @@ def least_rows(heads, goes, begin=0):
 
     heads has a key for each row, goes a list of pairs (event, row).
     """
-    classes = classes_of(heads, goes)
+    return numbered_rows(heads, goes, classes_of(heads, goes), begin)[0]
+
+
+def numbered_rows(heads, goes, classes, begin):
+    """The same by the classes of the rows, and a dict from classes that come to their rows."""
     first = {}
     for row, one in enumerate(classes):
         first.setdefault(one, row)
@@ -15,7 +19,7 @@ def least_rows(heads, goes, begin=0):
     for one in places:
         ways = tuple([(event, places[classes[reached]]) for event, reached in goes[first[one]]])
         found.append((heads[first[one]], ways))
-    return found
+    return found, places
 
 
 def met_from(begin, nexts):

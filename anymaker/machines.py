@@ -1,6 +1,6 @@
 """Machines of rows, and the least one that shows what a program does by first options."""
 
-from anymaker.automata import least_rows
+from anymaker.automata import least_rows, numbered_rows
 from anymaker.errors import BadInputs, BadMachine, BadMost
 from anymaker.fields import Field
 from anymaker.firsts import Firsts, head_of, ways_at
@@ -66,8 +66,20 @@ def least_machine(machine):
 
 def least_from(rows, begin):
     """The least machine with the showings that come from a row on."""
-    found = least_rows([head_of(row) for row in rows], [ways_at(row) for row in rows], begin)
-    return ("machine", tuple([row_of(head, ways) for head, ways in found]))
+    return as_machine(least_rows([head_of(row) for row in rows], [ways_at(row) for row in rows], begin))
+
+
+def machine_at(firsts, number):
+    """The least machine of FIRST from a standing on, and a dict from the classes that come to its rows."""
+    heads = [head_of(row) for row in firsts.rows]
+    goes = [ways_at(row) for row in firsts.rows]
+    found, places = numbered_rows(heads, goes, firsts.classes, firsts.at[number])
+    return as_machine(found), places
+
+
+def as_machine(pairs):
+    """The machine of pairs of a head and the ways from it."""
+    return ("machine", tuple([row_of(head, ways) for head, ways in pairs]))
 
 
 def row_of(head, ways):
@@ -84,4 +96,4 @@ def machine_of(document, program, choice):
     machine = Machine(Ground(document, program), choice)
     machine.begin()
     firsts = Firsts(Field([machine], [0]))
-    return least_from(firsts.rows, firsts.at[0])
+    return machine_at(firsts, 0)[0]

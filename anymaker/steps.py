@@ -80,6 +80,26 @@ def endless_of(nexts):
     return {number: True for number in nexts if many[number]}
 
 
+def heights_of(nexts):
+    """Of a dict from each number to those behind it, without rounds: how many steps each can go on at most."""
+    ahead = {number: [] for number in nexts}
+    many = {}
+    for number in nexts:
+        many[number] = len(nexts[number])
+        for reached in nexts[number]:
+            ahead[reached].append(number)
+    found = {}
+    over = [number for number in nexts if not many[number]]
+    while over:
+        number = over.pop()
+        found[number] = max([found[reached] + 1 for reached in nexts[number]], default=0)
+        for one in ahead[number]:
+            many[one] -= 1
+            if not many[one]:
+                over.append(one)
+    return found
+
+
 def has_round(machine, numbers):
     """Whether a lot with all that comes behind it without an event has a silent round."""
     return len(endless_of({number: silent_nexts(machine.step(number)) for number in numbers})) > 0
