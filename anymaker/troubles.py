@@ -7,7 +7,7 @@ from anymaker.documents import options_of
 from anymaker.fields import Field
 from anymaker.firsts import NEVER, RUINED, Firsts
 from anymaker.follows import is_ruined_run
-from anymaker.forms import are_inputs, is_let, is_row, is_word
+from anymaker.forms import are_inputs, is_let, is_word
 from anymaker.ground import Ground
 from anymaker.labellings import judge_kept
 from anymaker.machine import Machine

@@ -106,6 +106,37 @@ class Maker:
         return ("program", names, parts, self.expression(depth, names, ahead, asks, pins, loops))
 
 
+def telling(maker, depth, parts=(), asks=True):
+    """An expression that is worked out by orders and walks that tell themselves, and unset names."""
+    if depth == 0:
+        leaves = [BIT, BIT, SWAY, SWAY, name("x"), number(maker.some((0, 1, 2)))]
+        leaves += [("call", part) for part in parts] * 2 + [ASK] * asks
+        return maker.some(leaves)
+    head = maker.some(("show", "show", "op", "if", "then", "while"))
+    inner = [telling(maker, maker.some((0, depth - 1)), parts, asks) for _ in range(3)]
+    if head == "op":
+        return (maker.some(("plus", "minus", "same", "times", "over")), inner[0], inner[1]) + maker.some(((), ("left",), ("left",)))
+    if head == "while":
+        return ("while", inner[0], maker.some((number(0), put("x", number(0)), show(inner[1]))))
+    return {"show": show(inner[0]), "if": ("if",) + tuple(inner), "then": then(*inner)}[head]
+
+
+def telling_cases(seed, many, most, scopes=None, asks=True, fills=(0, 1, 2, 3, "none"), widths=(1, 2), choices_at_most=64):
+    """So many pairs of a document and a program whose showings are told by options."""
+    from anymaker.choices import choices
+    maker = Maker(seed)
+    found = []
+    while len(found) < many:
+        every = ("ever", "program", "part", "place", "run", "anew")
+        ruling = maker.document(scopes or every, fills, widths)
+        parts = tuple((part, telling(maker, 1, (), asks)) for part in ("p", "q")[:maker.some((0, 0, 1, 2))])
+        body = telling(maker, 3, tuple(part for part, _ in parts), asks)
+        pair = (ruling, ("program", ("x", "y"), parts, body))
+        if few_standings(*pair, most) and len(choices(*pair)) <= choices_at_most:
+            found.append(pair)
+    return found
+
+
 def few_standings(document, program, most):
     """Whether a program has at most so many choices, and standings by all of them together."""
     from anymaker.choices import choices

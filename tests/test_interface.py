@@ -42,6 +42,20 @@ FUNCTIONS = {
     "freeds": ("freed(document, program, row)", "is_freed(document, program, row, thing)", "kept_rows(document, program)"),
     "machines": ("is_machine(thing)", "shown_by(machine, inputs, most)", "least_machine(machine)",
                  "machine_of(document, program, choice)"),
+    "labellings": ("labelling(document, program, kept)", "is_labelling(document, program, kept, thing)"),
+    "troubles": ("trouble(document, program, kept)", "is_trouble(document, program, kept, thing)"),
+    "steadies": ("is_steady(document, program, kept)", "is_portable(document, program)",
+                 "is_repeatable(document, program)", "first_unlike(document, program, kept)"),
+    "blames": ("hangs_on(document, program)", "blamed(document, program, choice)"),
+    "borders": ("by_modes(document, modes)", "borders(document, program)"),
+    "groupings": ("steady_with(document, program, grouping)", "groupings(document, program)"),
+    "pinning": ("are_pins(document, program, thing)", "writings(document, program)", "pinned(program, pins)",
+                "unlike(document, program, one, other)"),
+    "forcing": ("forces(document, program, pins)", "pin_change(document, program, pins)",
+                "is_pin_change(document, program, pins, thing)"),
+    "pintrees": ("pin_tree(document, program, pins)", "is_pin_tree(document, program, pins, thing)"),
+    "leastpins": ("least_pins(document, program)", "idle_places(document, program)"),
+    "shaking": ("holding(document, program, writing)", "shaking(document, program, writing)"),
 }
 PLAIN_ERRORS = (
     "BadBarred BadBase BadChoice BadContext BadContract BadDocument BadEnds BadEvents BadGoal BadGrouping BadHeld "

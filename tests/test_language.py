@@ -188,7 +188,7 @@ class LanguageTest(unittest.TestCase):
                     self.assertTrue(node.func.attr in METHODS or node.func.attr in own, f"{name}:{node.lineno}")
                 if isinstance(node, ast.Call):
                     for keyword in node.keywords:
-                        self.assertIn((called(node), keyword.arg), (("sorted", "key"), ("enumerate", "start")), name)
+                        self.assertIn((called(node), keyword.arg), (("sorted", "key"), ("enumerate", "start"), ("min", "key"), ("max", "default")), name)
 
     def test_methods_are_no_attributes(self):
         for name, _, tree in sources():

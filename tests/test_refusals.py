@@ -60,6 +60,20 @@ NO_ROW = (None, 1, [1], [], (8,), (-1,), (True,), ("1",), ((1,),), {1: 1})
 MACHINE = ("machine", (("shows", 1, 1), ("asks", (0, 1) * 4)))
 NO_MACHINE = (None, (), ("machine", ()), ("machine", [("ends",)]), ("machine", (("ends",), ("waits",))), MACHINE[1],
               ("machine", (("shows", 1, 1),)), ("machine", (("shows", True, 0),)), ("machine", (("asks", (0,) * 7),)))
+NO_KEPT = (None, 1, "order", ["order"], ("fill",), ("walk", "order"), ("order", "order"), ("orders",), (1,), (["order"],))
+NO_MODES = (None, (), ("kept",) * 3, ("kept",) * 5, ["kept"] * 4, ("kept", "kept", "kept", "anew"), ("kept", "run", "free", "free"),
+            ("kept", "kept", None, "free"), "kept")
+NO_GROUPING = (None, 0, (), (0,), (0, 0, 0), [0, 0], (1, 1), (0, 2), (0, True), (False, 0), (0, -1), (0, None), "00")
+PLAIN = document(("run", ("left", "right")), ("run", ("up",)), ("run", (0, 1)), ("run", (2,)))
+NO_PLAIN = NO_DOCUMENT + (document(width=("run", (1, 2))), document(fill=("run", ("none",))), document(fill=("anew", (0, "none"))))
+PLACE = ("body", (1,))
+PINS = ((PLACE, "left"),)
+WRITING = PINS + ((("body", (1, 1)), 1),)
+NO_PINS = (None, 1, [], list(PINS), PINS * 2, WRITING[::-1], ((PLACE, "up"),), ((PLACE, 0),), ((PLACE,),), (PLACE, "left"),
+           ((("body", ()), "left"),), ((("p", ()), "left"),), ((("body", [1]), "left"),), ((("body", (True,)), "left"),),
+           ((("body", (1, 1)), False),), ((("body", (1, 1)), "none"),), ([PLACE, "left"],))
+NO_OWN_PINS = NO_PINS + (((("body", (1, 1)), 2),),)
+NO_WRITING = NO_OWN_PINS + ((), PINS, WRITING[1:])
 
 DOCUMENT = ("document", TOLD, NO_DOCUMENT, "BadDocument")
 PROGRAM = ("program", THING, NO_PROGRAM, "BadProgram")
@@ -82,7 +96,38 @@ TERM = ("terms", TERMS, NO_TERMS, "BadTerms")
 OWN_NAMES = ("names", ("x", "y"), NO_OWN_NAMES, "BadNames")
 PLAIN_PIECE = ("piece", ("over", name("y"), name("x")), NO_PLAIN_PIECE, "BadPiece")
 FILLED = ("n", 0, (None, "none", 1, False, -1, 8, "0", [0]), "BadNumber")
+KEPT = ("kept", ("order", "width"), NO_KEPT, "BadKept")
+PLAIN_DOCUMENT = ("document", PLAIN, NO_PLAIN, "BadDocument")
+PIN = ("pins", PINS, NO_OWN_PINS, "BadPins")
+WRITINGS = ("writing", WRITING, NO_WRITING, "BadPins")
 SIGNATURES = {
+    "labelling": (DOCUMENT, PROGRAM, KEPT),
+    "is_labelling": (DOCUMENT, PROGRAM, KEPT, ANY),
+    "trouble": (DOCUMENT, PROGRAM, KEPT),
+    "is_trouble": (DOCUMENT, PROGRAM, KEPT, ANY),
+    "is_steady": (DOCUMENT, PROGRAM, KEPT),
+    "is_portable": (DOCUMENT, PROGRAM),
+    "is_repeatable": (DOCUMENT, PROGRAM),
+    "first_unlike": (DOCUMENT, PROGRAM, KEPT),
+    "hangs_on": (DOCUMENT, PROGRAM),
+    "blamed": (DOCUMENT, PROGRAM, CHOICES),
+    "by_modes": (DOCUMENT, ("modes", ("kept", "free", "anew", "free"), NO_MODES, "BadModes")),
+    "borders": (DOCUMENT, PROGRAM),
+    "steady_with": (DOCUMENT, PROGRAM, ("grouping", (0, 1), NO_GROUPING, "BadGrouping")),
+    "groupings": (DOCUMENT, PROGRAM),
+    "are_pins": (PLAIN_DOCUMENT, PROGRAM, ANY),
+    "writings": (PLAIN_DOCUMENT, PROGRAM),
+    "pinned": (PROGRAM, ("pins", WRITING, NO_PINS, "BadPins")),
+    "unlike": (PLAIN_DOCUMENT, PROGRAM, ("one", WRITING, NO_WRITING, "BadPins"), ("other", WRITING, NO_WRITING, "BadPins")),
+    "forces": (PLAIN_DOCUMENT, PROGRAM, PIN),
+    "pin_change": (PLAIN_DOCUMENT, PROGRAM, PIN),
+    "is_pin_change": (PLAIN_DOCUMENT, PROGRAM, PIN, ANY),
+    "pin_tree": (PLAIN_DOCUMENT, PROGRAM, PIN),
+    "is_pin_tree": (PLAIN_DOCUMENT, PROGRAM, PIN, ANY),
+    "least_pins": (PLAIN_DOCUMENT, PROGRAM),
+    "idle_places": (PLAIN_DOCUMENT, PROGRAM),
+    "holding": (PLAIN_DOCUMENT, PROGRAM, WRITINGS),
+    "shaking": (PLAIN_DOCUMENT, PROGRAM, WRITINGS),
     "way": (DOCUMENT, PROGRAM, GOAL, LOT),
     "is_way": (DOCUMENT, PROGRAM, GOAL, LOT, ANY),
     "barred": (DOCUMENT, PROGRAM, GOAL, BAN),
@@ -205,7 +250,8 @@ class RefusalTest(unittest.TestCase):
             if signature[-1] == ANY:
                 for thing in STRANGE + (("comes",), ("comes", 1, 2), ("not", ()), ("not", 1), ((),), (((),),), ((1, 2, 3),)):
                     values = [one[1] for one in signature[:-1]] + [thing]
-                    self.assertIs(function_of(told)(*values), False, (told, thing))
+                    expected = told == "are_pins" and thing == ()
+                    self.assertIs(function_of(told)(*values), expected, (told, thing))
         for told in ("is_name", "is_expression", "is_program", "is_document", "is_piece", "is_context", "is_terms",
                      "is_machine"):
             for thing in STRANGE:
@@ -244,6 +290,13 @@ class TooManyTest(unittest.TestCase):
         self.check("freed", WIDE, SUMS, ())
         self.check("is_freed", WIDE, SUMS, (), None)
         self.check("kept_rows", WIDE, SUMS)
+        for told in ("labelling", "trouble", "is_steady", "first_unlike"):
+            self.check(told, WIDE, SUMS, ())
+        for told in ("is_labelling", "is_trouble"):
+            self.check(told, WIDE, SUMS, (), None)
+        for told in ("is_portable", "is_repeatable", "hangs_on", "groupings"):
+            self.check(told, WIDE, SUMS)
+        self.check("steady_with", WIDE, SUMS, (0,))
         loose = document(order=("place", ("left", "right")), fill=("anew", (0, 1)))
         more = program(then(*[("plus", ONE, ONE)] * 9))
         for told in ("set_lots", "ruin_lots"):
@@ -256,7 +309,9 @@ class TooManyTest(unittest.TestCase):
                 ("first_apart", (WIDE, SUMS, None), "BadProgram"), ("least_bans", (WIDE, SUMS, None), "BadGoal"),
                 ("right_program", (WIDE, SUMS, None), "BadProgram"),
                 ("way", (WIDE, SUMS, "ends", None), "BadPairs"), ("is_bar", (WIDE, SUMS, None, (), 1), "BadGoal"),
-                ("remaining", (WIDE, SUMS, None), "BadEvents"), ("freed", (WIDE, SUMS, None), "BadRow"),
+                ("remaining", (WIDE, SUMS, None), "BadEvents"), ("labelling", (WIDE, SUMS, None), "BadKept"),
+                ("is_trouble", (WIDE, SUMS, None, 1), "BadKept"), ("first_unlike", (WIDE, SUMS, ("order", "order")), "BadKept"),
+                ("steady_with", (WIDE, SUMS, (1,)), "BadGrouping"), ("hangs_on", (WIDE, None), "BadProgram"), ("freed", (WIDE, SUMS, None), "BadRow"),
                 ("set_lots", (WIDE, SUMS, None), "FixedFill"), ("ruin_lots", (WIDE, SUMS, 0), "FixedFill"),
                 ("set_lots", (document(("place", ("left", "right")), fill=("anew", (0,))), SUMS, 1), "BadNumber"),
                 ("are_wrong_runs", (WIDE, SUMS, None, 1, 1), "BadProgram")):
@@ -267,6 +322,11 @@ class TooManyTest(unittest.TestCase):
         choice = (("left",) * 8, "up", 0, 1)
         self.assertGreater(len(function_of("standings")(WIDE, SUMS, choice)), 8)
         self.assertTrue(function_of("is_choice")(WIDE, SUMS, choice))
+        self.assertEqual(function_of("blamed")(WIDE, SUMS, choice), ())
+        self.assertEqual(function_of("machine_of")(WIDE, SUMS, choice), ("machine", (("ends",),)))
+        self.assertEqual(function_of("borders")(WIDE, SUMS), ((("anew", "anew", "anew", "free"),), ()))
+        maker = ("maker", choice, ((),))
+        self.assertEqual(function_of("departures")(WIDE, SUMS, maker, ((), "ends"))[0], 0)
         self.assertEqual(function_of("run")(WIDE, SUMS, ("maker", choice, ((),)), (), 1), ((), "ends"))
         self.assertEqual(len(function_of("lot_behind")(WIDE, SUMS, choice, ())),
                          len(function_of("standings")(WIDE, SUMS, choice)))
