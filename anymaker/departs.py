@@ -73,7 +73,7 @@ def is_floor(document, program, maker, showing, many, thing):
     table = {}
     for state, at, standing, number in thing:
         table[(state, at, beside.machine.enter(standing))] = number
-    if len(table) < len(thing) or table.get(beside.begin) != 0:
+    if len(table) < len(thing) or table.get(beside.first_item) != 0:
         return False
     return all([beside.holds(item, table, many) for item in table])
 
@@ -87,7 +87,7 @@ class Beside:
         self.events = showing[0]
         self.end = showing[1]
         self.machine = Machine(Ground(document, program), maker[1])
-        self.begin = (0, 0, self.machine.begin())
+        self.first_item = (0, 0, self.machine.begin())
         self.fewer = {}
         self.links = {}
 
@@ -118,7 +118,7 @@ class Beside:
     def fill(self):
         """The fewest departures of all items that come: those with fewer of them first."""
         many = 0
-        level = [(self.begin, None)]
+        level = [(self.first_item, None)]
         while level:
             later = []
             while level:

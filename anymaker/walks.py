@@ -78,13 +78,13 @@ class Walk:
                 self.depths[reached] = self.depths[number] + 1
                 self.numbers.append(reached)
 
-    def endless(self):
+    def going_on(self):
         return endless_in(self.machine, self.numbers, self.banned)
 
     def first_at(self, goal):
         """The first standing that makes the goal, None if there is none."""
         if goal == "never":
-            endless = self.endless()
+            endless = self.going_on()
             found = [number for number in self.numbers if number in endless]
         else:
             found = [number for number in self.numbers if is_at(self.machine, number, goal, self.banned)]
@@ -110,7 +110,7 @@ class Walk:
         if goal == "ruined" and self.machine.step(number)[0] == "chooses":
             answers.append("none")
         if goal == "never":
-            endless = self.endless()
+            endless = self.going_on()
             more, again = round_along(lambda one: silent_ways(self.machine, one, self.banned), number, endless)
             again = None if again is None else again + len(answers)
             answers = answers + more

@@ -186,9 +186,10 @@ class LanguageTest(unittest.TestCase):
             for node in ast.walk(tree):
                 if isinstance(node, ast.Call) and isinstance(node.func, ast.Attribute):
                     self.assertTrue(node.func.attr in METHODS or node.func.attr in own, f"{name}:{node.lineno}")
+                fine = (("sorted", "key"), ("enumerate", "start"), ("min", "key"), ("max", "default"))
                 if isinstance(node, ast.Call):
                     for keyword in node.keywords:
-                        self.assertIn((called(node), keyword.arg), (("sorted", "key"), ("enumerate", "start"), ("min", "key"), ("max", "default")), name)
+                        self.assertIn((called(node), keyword.arg), fine, name)
 
     def test_methods_are_no_attributes(self):
         for name, _, tree in sources():
