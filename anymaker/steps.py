@@ -61,27 +61,16 @@ def silently_behind(machine, numbers):
 
 
 def endless_of(nexts):
-    """Of a dict from each number to those behind it: the dict of those that can go on for ever.
-
-    Those are what is left when all with nothing behind them are taken away, over and over.
-    """
-    ahead = {number: [] for number in nexts}
-    many = {}
-    for number in nexts:
-        many[number] = len(nexts[number])
-        for reached in nexts[number]:
-            ahead[reached].append(number)
-    over = [number for number in nexts if not many[number]]
-    while over:
-        done = ahead[over.pop()]
-        for number in done:
-            many[number] -= 1
-        over.extend([number for number in sorted(set(done)) if not many[number]])
-    return {number: True for number in nexts if many[number]}
+    """Of a dict from each number to those behind it: the dict of those that can go on for ever."""
+    heights = heights_of(nexts)
+    return {number: True for number in nexts if number not in heights}
 
 
 def heights_of(nexts):
-    """Of a dict from each number to those behind it, without rounds: how many steps each can go on at most."""
+    """How many steps each number can go on at most, but for those that can go on for ever.
+
+    All with nothing behind them are taken away, over and over.
+    """
     ahead = {number: [] for number in nexts}
     many = {}
     for number in nexts:

@@ -7,7 +7,7 @@ def parts_in_order(things):
     for at in range(len(things)):
         found = found + [ranks + (at,) for ranks in found]
     found = sorted(found, key=lambda ranks: (len(ranks), ranks))
-    return [tuple([things[at] for at in ranks]) for ranks in found]
+    return [tuple([things[rank] for rank in ranks]) for ranks in found]
 
 
 def has_part(lots, lot):
