@@ -42,7 +42,6 @@ def judge_fill(document, program, n):
 def set_lots(document, program, n):
     """The least lots of variables with which set ahead the program is never ruined."""
     judge_fill(document, program, n)
-    choices_of(document, program)
     found = []
     for lot in parts_in_order(program[1]):
         if not has_part(found, lot) and not can_be_ruined(document, ahead_of(program, lot, n)):

@@ -3,7 +3,6 @@
 from anymaker.choices import choices_of, fits
 from anymaker.documents import scope_of
 from anymaker.errors import BadKept
-from anymaker.firsts import NEVER
 from anymaker.forms import KINDS, is_between, is_number, is_row, is_word
 from anymaker.ground import Ground
 from anymaker.judging import judge_document, judge_program
@@ -41,8 +40,7 @@ def labelled(whole, index):
     firsts, field = whole.firsts, whole.field
     machine, places = machine_at(firsts, field.begins[index])
     numbers = [number for number in range(len(field.owners)) if field.owners[number] == index]
-    ending = [number for number in numbers if firsts.class_at(number) != firsts.classes[NEVER]]
-    heights = heights_of({number: field.silent[number] for number in ending})
+    heights = heights_of({number: field.silent[number] for number in numbers})
     labels = []
     for number in numbers:
         labels.append((field.told(number), places[firsts.class_at(number)], heights.get(number, 0)))

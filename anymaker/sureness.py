@@ -46,9 +46,6 @@ def needs(terms, names, piece):
 
 
 def is_least_sure(surer, memory, harmless):
-    """Whether a memory is as sure as no surely less sure one, nor as one that is like it and has more None."""
-    for other in harmless:
-        if is_as_sure(surer, memory, other):
-            if not is_as_sure(surer, other, memory) or other.count(None) > memory.count(None):
-                return False
-    return True
+    """Whether a memory is as sure as no other one with more None: one that is less sure has more."""
+    more = [other for other in harmless if other.count(None) > memory.count(None)]
+    return not any([is_as_sure(surer, memory, other) for other in more])

@@ -139,6 +139,14 @@ class AheadTest(unittest.TestCase):
         self.assertEqual(ruin(fixed, program(body, ("x", "y")))[0], "safe")
         self.assertEqual(ruin(fixed, set_ahead(program(body, ("x", "y")), ("x",), 0))[0], "ruined")
 
+    def test_pinned_names_modulo_the_width(self):
+        for width, n, pin, ruins in ((2, 1, 3, (("x",),)), (2, 3, 3, ((),)), (1, 1, 3, ((),)), (1, 0, 3, (("x",),)), (2, 3, 1, (("x",),)),
+                                     (3, 2, 2, ((),)), (3, 1, 2, (("x",),))):
+            told = document(fill=("anew", (0, 1, 2, 3)), width=("run", (width,)))
+            body = ("over", ONE, ("minus", ("name", "x", pin), number(pin)))
+            self.assertEqual(ruin_lots(told, program(body), n), ruins)
+            self.assertEqual(model_ruin_lots(told, program(body), n), ruins)
+
     def cases(self, seed, many, pins):
         maker = Maker(seed)
         while many:

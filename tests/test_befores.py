@@ -4,6 +4,7 @@ import itertools
 import unittest
 
 from anymaker.befores import before
+from anymaker.errors import BadMemory
 from anymaker.expressions import is_expression
 from anymaker.guards import guard, tests
 from anymaker.ruins import ruin
@@ -237,6 +238,14 @@ class SureTest(unittest.TestCase):
                 for other in [None] + list(range(2 ** width)):
                     told = as_sure(terms=self.fills(fill, width), one=(one,), other=(other,))
                     self.assertIs(told, (one, other) in rows, (fill, width, one, other))
+
+    def test_memories_are_of_one_to_three_names(self):
+        for many in (0, 4, 5):
+            for one, other in (((None,) * many, (None,) * many), ((None,) * many, (0,)), ((0,), (None,) * many)):
+                with self.assertRaises(BadMemory):
+                    as_sure(self.fills((0,)), one, other)
+        for many in (1, 2, 3):
+            self.assertTrue(as_sure(self.fills((0, 1)), (0,) * many, (None,) * many))
 
     def test_name_by_name(self):
         terms = self.fills((0, 1))

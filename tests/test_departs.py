@@ -1,5 +1,6 @@
 """Points [45], [46], [47]: departures from a told maker, floors below them, and the choices that remain."""
 
+import itertools
 import unittest
 
 from anymaker.choices import choices
@@ -11,7 +12,7 @@ from anymaker.remains import remaining
 from anymaker.runs import requests, run
 from tests import model
 from tests.nearly import STRANGE, nearly
-from tests.samples import ASK, Maker, document, name, number, program, put, show, small_cases, then
+from tests.samples import ASK, BIT, Maker, document, name, number, program, put, show, small_cases, then
 from tests.test_comings import model_is_standing
 from tests.test_goals import KINDS
 
@@ -165,6 +166,24 @@ class DeparturesTest(unittest.TestCase):
         ruinous = ("maker", (None, "up", None, 2), ((("left", 0), ("none", 0)),))
         self.assertEqual(self.check(self.told, self.thing, ruinous, ((), "ruined")), 1)
 
+    def test_a_departure_to_none_counts_behind_others(self):
+        told = document(("anew", ("left", "right")), fill=("anew", (0, "none")))
+        maker = ("maker", (None, "up", None, 1), ((("left", 0), (0, 0)),))
+        for body, many in ((("plus", name("x"), ONE), 1), (then(name("x"), name("x")), 1),
+                           (("plus", put("x", ONE), name("x")), 2), (then(("plus", ONE, put("x", ONE)), name("x")), None)):
+            self.assertEqual(self.check(told, program(body), maker, ((), "ruined")), many)
+
+    def test_several_departures_one_behind_another(self):
+        """All sequences of answers, each told by what is shown."""
+        told = document(("anew", ("left", "right")), width=("run", (1,)))
+        thing = program(then(show(BIT), show(BIT), show(BIT)), ("y",))
+        for mine in itertools.product(("left", "right"), repeat=3):
+            maker = maker_of(told, thing, (None, "up", 0, 1), mine)
+            for others in itertools.product(("left", "right"), repeat=3):
+                events = tuple(("shown", int(one == "left")) for one in others)
+                many = sum(one != other for one, other in zip(mine, others))
+                self.assertEqual(self.check(told, thing, maker, (events, "ends")), many)
+
     def test_each_end(self):
         told = document(order=("anew", ("left", "right")))
         maker = ("maker", (None, "up", 0, 1), ((("left", 0),),))
@@ -215,15 +234,16 @@ class DeparturesTest(unittest.TestCase):
                 self.assertTrue(model_is_floor(told, thing, maker, showing, number_, below))
 
     def test_nearly_right_floors(self):
-        checked = {True: 0, False: 0}
-        for told, thing, maker in self.cases(66, 24, 12, depth=2, names=("x",)):
+        checked, departing = {True: 0, False: 0}, 0
+        for told, thing, maker in self.cases(66, 40, 12, depth=2, names=("x",)):
             for showing in sorted(model.showings(told, thing, [maker[1]], 1), key=str)[:3]:
                 if showing[1] == "never":
                     continue
                 many = departures(told, thing, maker, showing)[0]
                 found = floor(told, thing, maker, showing, many)
-                if len(str(found)) > 500:
+                if len(str(found)) > 700:
                     continue
+                departing += max(item[3] for item in found) > 0
                 for other in list(nearly(found)) + [found + found[:1], found[::-1]]:
                     for least in (0, many, many + 1):
                         expected = model_is_floor(told, thing, maker, showing, least, other)
@@ -231,6 +251,7 @@ class DeparturesTest(unittest.TestCase):
                         self.assertFalse(expected and least > many)
                         checked[expected] += 1
         self.assertGreater(min(checked.values()), 100)
+        self.assertGreater(departing, 3)
 
     def test_numbers_of_floors_may_be_less(self):
         maker = ("maker", (None, "up", None, 2), ((("left", 0), (0, 0)),))
@@ -240,6 +261,18 @@ class DeparturesTest(unittest.TestCase):
         self.assertTrue(is_floor(self.told, self.thing, maker, showing, 0, least))
         self.assertFalse(is_floor(self.told, self.thing, maker, showing, 1, least))
         self.assertIsNone(floor(document=self.told, program=self.thing, maker=maker, showing=showing, many=2))
+        for at, item in enumerate(found):
+            higher = found[:at] + (item[:3] + (item[3] + 1,),) + found[at + 1:]
+            expected = model_is_floor(self.told, self.thing, maker, showing, 1, higher)
+            self.assertIs(is_floor(self.told, self.thing, maker, showing, 1, higher), expected)
+        far = document(("anew", ("left", "right")))
+        thing = program(("plus", ONE, ONE))
+        maker_there = ("maker", (None, "up", 0, 1), ((("left", 0),),))
+        below = floor(far, thing, maker_there, ((), "ends"), 0)
+        self.assertEqual([item[3] for item in below].count(1), 1)
+        for worth, fine in ((0, True), (1, True), (2, False), (3, False)):
+            other = tuple(item[:3] + (worth if item[3] else 0,) for item in below)
+            self.assertIs(is_floor(far, thing, maker_there, ((), "ends"), 0, other), fine)
         more = found + ((0, 1, (ASK, (None,)), 0),)
         self.assertTrue(is_floor(self.told, self.thing, maker, showing, 1, more))
         self.assertFalse(is_floor(self.told, self.thing, maker, showing, 1, found + ((0, 0, (then(ONE, ASK), (None,)), 0),)))
@@ -273,18 +306,26 @@ class RemainingTest(unittest.TestCase):
         self.assertEqual(remaining(told, thing, (("shown", 0),)), every[:3])
         self.assertEqual(remaining(told, thing, (("shown", 3),)), ())
         self.assertEqual(remaining(told, program(ASK), (("asked", 7),)), choices(told, program(ASK)))
+        twice = program(then(show(name("x")), show(ONE), ASK))
+        every = choices(told, twice)
+        self.assertEqual(remaining(told, twice, (("shown", 0), ("shown", 1), ("asked", 3))), every[:2])
+        self.assertEqual(remaining(told, twice, (("shown", 1),)), every[2:])
+        for events in ((("shown", 0), ("asked", 3)), (("asked", 3),), (("shown", 1), ("asked", 3)), (("shown", 1), ("shown", 0))):
+            self.assertEqual(remaining(told, twice, events), ())
         self.assertEqual(remaining(told, program(ASK), (("asked", 7), ("asked", 7))), ())
 
     def test_many(self):
         parted = 0
         for told, thing in small_cases(67, 60, 40):
             rows = choices(told, thing)
-            for events in sorted({events for events, _ in model.showings(told, thing, rows, 2)})[:8]:
+            every = {events for events, _ in model.showings(told, thing, rows, 2)}
+            every |= {events[1:] for events in every} | {events[:1] + events[:1] for events in every}
+            for events in sorted(every)[:16]:
                 left = remaining(told, thing, events)
                 expected = [choice for choice in rows if model.lot_behind(told, thing, choice, events)]
                 self.assertEqual(list(left), expected)
                 parted += 0 < len(left) < len(rows)
-        self.assertGreater(parted, 10)
+        self.assertGreater(parted, 8)
 
 
 if __name__ == "__main__":

@@ -117,6 +117,14 @@ class FreedTest(unittest.TestCase):
         self.assertTrue(self.check(wide, thing, (0,)))
         self.assertFalse(self.check(wide, thing, (2, 0)))
 
+    def test_rows_that_lead_back(self):
+        told = document(fill=("anew", (0, 1)))
+        asking = ("if", name("x"), ASK, ZERO)
+        thing = program(("while", ONE, ("if", asking, ("over", ONE, ASK), ZERO)))
+        self.assertEqual(kept_rows(told, thing), ((0, 1) * 4, (None, 0) * 4))
+        for row in itertools.product((0, 1), repeat=4):
+            self.assertEqual(row_at(kept_rows(told, thing), row) is None, self.check(told, thing, row))
+
     def test_rows_alike_are_one(self):
         thing = program(then(put("x", ASK), show(ASK), ("over", ONE, ASK)))
         rows = kept_rows(document(), thing)

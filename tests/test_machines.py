@@ -138,6 +138,18 @@ class MachineTest(unittest.TestCase):
         for row in (ENDS, NEVER, RUINED):
             self.assertEqual(least_machine(machine=("machine", (row, ENDS, ENDS))), ("machine", (row,)))
 
+    def test_chains_of_many_rows(self):
+        chain = tuple(("shows", 1, at + 1) for at in range(150)) + (ENDS,)
+        self.assertEqual(least_machine(("machine", chain)), ("machine", chain))
+        self.assertEqual(shown_by(("machine", chain), (), 200), ((("shown", 1),) * 150, "ends"))
+        ring = tuple(("shows", at % 3, (at + 1) % 120) for at in range(120))
+        self.assertEqual(least_machine(("machine", ring)), ("machine", (("shows", 0, 1), ("shows", 1, 2), ("shows", 2, 0))))
+        asks = tuple(("asks", (at + 1,) * 7 + (0,)) for at in range(90)) + (NEVER,)
+        self.assertEqual(least_machine(("machine", asks[::-1][:1] + asks)), ("machine", (NEVER,)))
+        self.assertEqual(least_machine(("machine", asks)), ("machine", asks))
+        turned = ("machine", (("shows", 2, 4), ENDS, ("shows", 1, 1), ("shows", 0, 2), ("shows", 3, 3), ("shows", 5, 0)))
+        self.assertEqual(least_machine(turned), ("machine", (("shows", 2, 1), ("shows", 3, 2), ("shows", 0, 3), ("shows", 1, 4), ENDS)))
+
     def test_least_of_many(self):
         less = 0
         for seed in range(300):

@@ -426,6 +426,54 @@ class PinTreeTest(unittest.TestCase):
         for other in STRANGE:
             self.assertIs(is_pin_tree(TWICE, THING, (), other), False)
 
+    def test_trees_of_several_places(self):
+        """Each part is met twice, so both have to be written, in a tree within a tree."""
+        inner = then(put("x", ZERO), sum_of("x"))
+        rows = [show(("minus", ("call", part), ("call", part))) for part in "pq"]
+        thing = program(then(*rows), ("x",), (("p", inner), ("q", inner)))
+        places = [("p", (2,)), ("q", (2,))]
+        every = every_place(TWICE, thing)
+        for many in range(3):
+            for some in itertools.combinations(places, many):
+                for options in itertools.product(BOTH, repeat=many):
+                    for more in ((), (("body", (1, 1)), ("q", (2, 2)))):
+                        wanted = {**dict(zip(some, options)), **{place: every[place][-1] for place in more}}
+                        pins = tuple((place, wanted[place]) for place in every if place in wanted)
+                        tree = pin_tree(TWICE, thing, pins)
+                        self.assertTrue(model_is_pin_tree(TWICE, thing, pins, tree), pins)
+                        self.assertTrue(is_pin_tree(TWICE, thing, pins, tree))
+                        words = [str(tree).count("'try'"), tree[1][0]]
+                        self.assertEqual(words, [[3, "try"], [1, "try"], [0, "all"]][many])
+
+    def test_machines_of_trees_are_least(self):
+        told = document(("run", BOTH))
+        thing = program(show(ONE))
+        machine, (word, ((choice, _, labels),)) = pin_tree(told, thing, ())
+        self.assertTrue(is_pin_tree(told, thing, (), (machine, (word, ((choice, machine, labels),)))))
+        more = ("machine", machine[1] + (("ends",),))
+        anew = document(("anew", BOTH), ("anew", ("up",)), ("anew", (0,)))
+        self.assertTrue(is_labelling(anew, thing, (), ((choice, more, labels),)))
+        self.assertFalse(is_pin_tree(told, thing, (), (more, (word, ((choice, more, labels),)))))
+        self.assertFalse(is_pin_tree(told, thing, (), (machine, (word, ((choice, more, labels),)))))
+
+    def test_nearly_trees_that_try(self):
+        told = document(("run", BOTH), fill=("run", (1,)))
+        checked = {True: 0, False: 0}
+        for thing, place in ((program(show(name("x"))), ("body", (1,))), (program(("plus", ONE, ZERO)), ("body", ()))):
+            rows = every_place(told, thing)
+            machine = pin_tree(told, thing, ())[0]
+            behind = tuple(pin_tree(told, thing, ((place, option),))[1] for option in rows[place])
+            tree = (machine, ("try", place, behind))
+            more = [(machine, ("tried", place, behind)), (machine, ("try", ("body", (2, 2)), behind)), (machine, ("try", "body", behind)),
+                    (machine, ("try", ("body", [1]), behind)), (machine, ("try", place, behind, ())), (machine, ("all", place, behind)),
+                    (machine, ("try", place, behind * 2)), (machine, ("try", [place], behind)), (machine, ("try", ("q", ()), behind))]
+            for pins in ((), ((place, rows[place][0]),)):
+                for other in list(nearly(tree)) + more + [tree]:
+                    expected = model_is_pin_tree(told, thing, pins, other)
+                    self.assertIs(is_pin_tree(told, thing, pins, other), expected, (pins, other))
+                    checked[expected] += 1
+        self.assertGreater(min(checked.values()), 20)
+
     def test_trees_may_try_any_places(self):
         told = document(("run", BOTH), fill=("run", (0, 1)))
         thing = program(show(("plus", ONE, ("times", ZERO, name("x")))))

@@ -71,6 +71,26 @@ class RuinTest(unittest.TestCase):
         self.assertEqual(run(told, thing, maker, inputs, 50)[1], "ruined")
         self.assertEqual(steps_of(told, thing, maker, inputs), 6)
 
+    def test_the_choice_that_ruins_soonest(self):
+        told = document(fill=("run", (0, 1, 2)), width=("run", (2,)))
+        late, soon = then(ONE, ONE, ONE, ("over", ONE, ZERO, "left")), ("over", ONE, ZERO, "left")
+        for body, fill, many in ((("if", name("x"), late, soon), 0, 2), (("if", name("x"), soon, late), 1, 2),
+                                 (("if", ("same", name("x"), ONE, "left"), soon, late), 1, 3),
+                                 (("if", ("less", name("x"), number(2), "left"), late, soon), 2, 3)):
+            word, steps, maker, inputs = ruin(told, program(body))
+            self.assertEqual((word, steps, maker[1][2], tuple(inputs)), ("ruined", many, fill, ()))
+            self.assertEqual(fewest_steps(told, program(body)), many)
+
+    def test_makers_are_let_to_do_so(self):
+        for told, body in ((document(fill=("anew", (0, 1))), ("over", ONE, name("x"))),
+                           (document(("anew", ("left", "right")), fill=("anew", (0, 1))), ("over", ONE, ("plus", name("x"), ZERO))),
+                           (document(("anew", ("left", "right"))), ("over", ONE, ("minus", ONE, ONE))),
+                           (document(fill=("anew", (0, "none"))), then(ASK, name("x")))):
+            thing = program(body)
+            _, steps, maker, inputs = ruin(told, thing)
+            self.assertTrue(is_maker(told, thing, maker))
+            self.assertEqual(steps_of(told, thing, maker, inputs), steps)
+
     def test_many(self):
         found = {"safe": 0, "ruined": 0}
         for told, thing in small_cases(64, 120, 60):

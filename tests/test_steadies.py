@@ -457,6 +457,13 @@ class TroubleTest(unittest.TestCase):
         one, other = choices(told, thing)
         for inputs, fine in (((), False), ((0,), False), ((1,), True), ((2, 7), True), ([3], True), ((4,), False), ((8,), False)):
             self.assertIs(is_trouble(told, thing, (), ("spot", one, other, inputs)), fine)
+        for bad in ((1, 8), (1, True), (1, "1"), (1, None), None, 1, "1", {1: 1}, [1, 8]):
+            self.assertIs(is_trouble(told, thing, (), ("spot", one, other, bad)), False)
+        ruined = program(("over", ONE, ASK), ("y",))
+        word, maker, inputs = trouble(told, ruined, ())
+        for bad, fine in ((tuple(inputs), True), (list(inputs) + [7], True), (tuple(inputs) + (8,), False), (None, False),
+                          (list(inputs) + [True], False), ("", False), ({}, False)):
+            self.assertIs(is_trouble(told, ruined, (), (word, maker, bad)), fine)
         told = document(order=("anew", ("left", "right")), width=("run", (2,)))
         found = trouble(told, thing, ())
         self.assertEqual((found[0], found[3], found[4]), ("request", "right", ()))
@@ -485,6 +492,11 @@ class TroubleTest(unittest.TestCase):
         standing = (("name", "x", ("body", (1,))), (None,))
         self.assertFalse(is_trouble(told, thing, (), ("request", choice, standing, 1, ())))
         self.assertTrue(is_trouble(told, thing, (), ("request", choice, model.first(thing), 1, ())))
+        for other in model.standings(told, thing, choice)[1:]:
+            for option in (0, 1):
+                self.assertFalse(is_trouble(told, thing, (), ("request", choice, other, option, ())))
+        for bad in ((8,), (True,), (-1,), ("1",), (None,), None, 1, "1", {1: 1}, [8], (0, (1,))):
+            self.assertFalse(is_trouble(told, thing, (), ("request", choice, model.first(thing), 1, bad)))
         ring = trouble(told, program(("while", name("x"), ZERO)), ())[2]
         looped = program(then(show(name("x")), ("while", name("x"), ZERO)))
         self.assertFalse(is_trouble(told, looped, (), ("ring", choice, ring[:1] + ring[2:])))

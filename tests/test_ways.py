@@ -9,7 +9,7 @@ from anymaker.makers import is_maker, maker_of
 from anymaker.ways import barred, is_bar, is_way, way
 from tests import model
 from tests.nearly import STRANGE, nearly
-from tests.samples import ASK, document, name, number, program, put, show, small_cases, then
+from tests.samples import ASK, BIT, document, name, number, program, put, show, small_cases, then
 from tests.test_comings import model_is_standing
 from tests.test_goals import GOALS, KINDS, comes_under, pairs_of, used_by
 
@@ -177,6 +177,30 @@ class WayTest(unittest.TestCase):
                            ((("order", "left"), ("fill", 1), ("width", 1)), False)):
             self.assertEqual(self.both(told, thing, "never", lot), comes)
 
+    def test_rounds_and_ruins_at_requests(self):
+        told = document(("anew", ("left", "right")), fill=("anew", (0, 1)))
+        every = tuple(pairs_of(told))
+        for body in (("while", ("plus", ONE, name("x")), ONE), ("plus", ("while", name("x"), ONE), ONE), ("while", ONE, name("x")),
+                     then(("plus", ONE, ONE), ("while", ONE, ONE))):
+            self.assertTrue(self.both(told, program(body), "never", every))
+        for body in (("over", name("x"), name("x")), then(name("x"), ("over", ONE, name("x")))):
+            self.assertTrue(self.both(told, program(body), "ruined", every))
+
+    def test_several_answers_one_behind_another(self):
+        """One sequence of answers alone comes to the goal."""
+        told = document(("anew", ("left", "right")), fill=("anew", (0, 1)), width=("run", (2,)))
+        every = tuple(pairs_of(told))
+        for answers in itertools.product((0, 1), repeat=4):
+            for last, goal in ((show(number(3)), ("shown", 3)), (("over", ONE, number(0), "left"), "ruined"),
+                               (("while", ONE, ONE), "never"), (("while", ("same", name("x"), ONE, "left"), ONE), "never")):
+                body = last
+                for at, answer in enumerate(answers):
+                    told_here = BIT if at % 2 else name("z")
+                    body = ("if", ("same", told_here, number(answer), "left"), body, number(0))
+                thing = program(body, ("x", "y", "z"))
+                self.assertTrue(self.both(told, thing, goal, every))
+        self.assertFalse(self.both(told, program(show(BIT), ("y",)), ("shown", 2), every))
+
     def test_goals_that_are_asked(self):
         thing = program(then(ASK, show(ASK)))
         for n in range(8):
@@ -184,6 +208,16 @@ class WayTest(unittest.TestCase):
             self.assertEqual(tuple(found[1]), (n,))
         self.assertTrue(self.both(document(), thing, ("shown", 1), tuple(pairs_of(document()))))
         self.assertFalse(self.both(document(), program(ONE), ("asked", 0), tuple(pairs_of(document()))))
+
+    def test_inputs_behind_what_was_shown(self):
+        told = document(width=("run", (3,)))
+        every = tuple(pairs_of(told))
+        for n in range(8):
+            last = ("if", ("same", ASK, number(n)), ("over", ONE, number(0)), ONE)
+            thing = program(then(show(number(5)), put("x", ASK), show(number(3)), last))
+            found = way(told, thing, "ruined", every)
+            self.assertEqual((len(found[1]), found[1][1]), (2, n))
+            self.assertTrue(self.both(told, thing, "ruined", every))
 
     def test_many(self):
         came = [0, 0]
