@@ -181,8 +181,10 @@ class WayTest(unittest.TestCase):
         told = document(("anew", ("left", "right")), fill=("anew", (0, 1)))
         every = tuple(pairs_of(told))
         for body in (("while", ("plus", ONE, name("x")), ONE), ("plus", ("while", name("x"), ONE), ONE), ("while", ONE, name("x")),
-                     then(("plus", ONE, ONE), ("while", ONE, ONE))):
-            self.assertTrue(self.both(told, program(body), "never", every))
+                     then(("plus", ONE, ONE), ("while", ONE, ONE)),
+                     then(show(("plus", ONE, ONE)), ("while", name("x"), ONE)),
+                     then(show(("plus", ONE, name("x"))), put("x", ASK), ("while", ("same", name("y"), ONE), name("y")))):
+            self.assertTrue(self.both(told, program(body, ("x", "y")), "never", every))
         for body in (("over", name("x"), name("x")), then(name("x"), ("over", ONE, name("x")))):
             self.assertTrue(self.both(told, program(body), "ruined", every))
 
