@@ -83,7 +83,7 @@ def behind_reading(machine, number, lot, n):
     _, node = machine.active(rest)
     ways = ways_of(machine, number)
     if node[0] != "name" or memory[machine.ground.slots[node[1]]] is not None or node[1] in lot:
-        return [reached for _, _, _, reached in ways]
+        return [one[3] for one in ways]
     if is_number(node[2]):
-        return [reached for _, _, _, reached in ways if (node[2] - n) % machine.size == 0]
-    return [reached for _, option, _, reached in ways if option != "none" and (option - n) % machine.size == 0]
+        return [one[3] for one in ways if (node[2] - n) % machine.size == 0]
+    return [one[3] for one in ways if one[1] != "none" and (one[1] - n) % machine.size == 0]

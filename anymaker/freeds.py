@@ -114,7 +114,8 @@ def is_safe_chain(machine, row, thing):
 
 def stays_safe(machine, number, lot, given, behind):
     """Whether a standing is not ruined, and leads to the lot, or by the given input to the lot behind."""
-    for _, _, event, reached in ways_of(machine, number):
+    for one in ways_of(machine, number):
+        event, reached = one[2:]
         if reached is None:
             return False
         if event is None or event[0] == "shown":

@@ -153,7 +153,7 @@ def is_spot_trouble(document, program, kept, thing):
 
 
 def is_request_trouble(document, firsts, thing):
-    _, _, standing, option, inputs = thing
+    standing, option, inputs = thing[2:]
     number = coming_number(firsts, standing)
     if number is None or not are_inputs(inputs):
         return False
