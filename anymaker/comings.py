@@ -64,30 +64,40 @@ class Search:
 
     def maker(self):
         """A maker that has the showing, or None."""
-        end = self.showing[1]
-        lot = self.lots[-1]
-        if end == "never":
-            endless = endless_of({number: silent_nexts(self.machine.step(number)) for number in lot})
-            found = [number for number in lot if number in endless]
-        else:
-            found = [number for number in lot if makes_end(self.machine.step(number), end)]
+        last = len(self.lots) - 1
+        found = self.goals(last, self.showing[1])
         if not found:
             return None
         self.goal = found[0]
-        answers = self.answers_to(self.goal)
+        return self.maker_at(last, self.goal, self.showing[1])
+
+    def goals(self, many, end):
+        """The standings behind so many events that make the end."""
+        lot = self.lots[many]
+        if end == "never":
+            endless = self.endless_behind(many)
+            return [number for number in lot if number in endless]
+        return [number for number in lot if makes_end(self.machine.step(number), end)]
+
+    def endless_behind(self, many):
+        return endless_of({number: silent_nexts(self.machine.step(number)) for number in self.lots[many]})
+
+    def maker_at(self, many, number, end):
+        """A maker that makes the end at this standing behind so many events."""
+        answers = self.answers_to(many, number)
         again = None
         if end == "never":
-            more, again = round_from(self.machine, self.goal, endless)
+            more, again = round_from(self.machine, number, self.endless_behind(many))
             again = None if again is None else again + len(answers)
             answers = answers + more
-        elif end == "ruined" and self.machine.step(self.goal)[0] == "chooses":
+        elif end == "ruined" and self.machine.step(number)[0] == "chooses":
             answers.append("none")
         return maker_along(self.machine.ground.document, self.machine.choice, answers, again)
 
-    def answers_to(self, number):
-        """The options that lead to this standing behind all events, one behind another."""
+    def answers_to(self, many, number):
+        """The options that lead to this standing behind so many events, one behind another."""
         answers = []
-        link = self.links[(number, len(self.lots) - 1)]
+        link = self.links[(number, many)]
         while link is not None:
             pair, option = link
             if option is not None:

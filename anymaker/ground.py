@@ -1,7 +1,7 @@
 """What all choices of a program by a document share, and standings by their form."""
 
-from anymaker.forms import ASKING, OPERATIONS, is_between, is_memory, is_place_form, is_row, is_word
-from anymaker.programs import parts_of, places_of
+from anymaker.forms import OPERATIONS, is_between, is_memory, is_place_form, is_row, is_word
+from anymaker.programs import parts_of, places_by_kind
 from anymaker.rests import Rests, rest_of
 from anymaker.trees import children_of, is_headed, is_node
 
@@ -20,8 +20,9 @@ class Ground:
             self.parts[pair[0]] = at
             self.whole_parts[pair[0]] = self.rests.take(rest_of(pair[1], pair[0]))
         self.spots = {}
-        for kind in ASKING:
-            self.spots[kind] = {place: at for at, place in enumerate(places_of(program, kind))}
+        rows = places_by_kind(program)
+        for kind in rows:
+            self.spots[kind] = {place: at for at, place in enumerate(rows[kind])}
 
     def is_spot(self, kind, thing):
         """Whether any value is a place of this kind."""

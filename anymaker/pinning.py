@@ -9,8 +9,8 @@ from anymaker.forms import ASKING, OPTIONS, is_let, is_place_form, is_row
 from anymaker.ground import Ground
 from anymaker.judging import judge_program
 from anymaker.machine import Machine
-from anymaker.programs import parts_of, places_of
-from anymaker.trees import children_of, is_open, nodes_of
+from anymaker.programs import parts_of, places_by_kind
+from anymaker.trees import children_of, nodes_of, open_kind
 
 MOST_WRITINGS = 64
 
@@ -28,9 +28,9 @@ def kinds_of_places(program):
     found = {}
     for name, expression in parts_of(program):
         for path, node in nodes_of(expression):
-            for kind in ASKING:
-                if is_open(node, kind):
-                    found[(name, path)] = kind
+            kind = open_kind(node)
+            if kind is not None:
+                found[(name, path)] = kind
     return found
 
 
@@ -138,7 +138,8 @@ class Written:
 def choice_by(document, program, writing):
     """The choice of scope place that has the options of a writing."""
     table = {place: option for place, option in writing}
-    items = [tuple([table[place] for place in places_of(program, kind)]) for kind in ASKING]
+    rows = places_by_kind(program)
+    items = [tuple([table[place] for place in rows[kind]]) for kind in ASKING]
     return tuple(items) + options_of(document, "width")
 
 

@@ -2,7 +2,7 @@
 
 from anymaker.errors import BadKind, BadProgram
 from anymaker.forms import ASKING, is_row, is_word
-from anymaker.trees import called_in, is_open, is_tree, named_in, nodes_of
+from anymaker.trees import is_tree, names_only, nodes_of, open_kind
 from anymaker.words import is_name
 
 
@@ -19,11 +19,7 @@ def is_program_with(thing, hole):
         return False
     ahead = []
     for name, expression in parts_of(thing):
-        if not is_tree(expression, hole):
-            return False
-        if not all([variable in thing[1] for variable in named_in(expression)]):
-            return False
-        if not all([part in ahead for part in called_in(expression)]):
+        if not is_tree(expression, hole) or not names_only(expression, thing[1], ahead):
             return False
         ahead.append(name)
     return True
@@ -59,7 +55,15 @@ def places(program, kind):
 
 
 def places_of(program, kind):
-    found = []
+    return tuple(places_by_kind(program)[kind])
+
+
+def places_by_kind(program):
+    """A dict from the kinds to the lists of their places, ascending."""
+    found = {kind: [] for kind in ASKING}
     for name, expression in parts_of(program):
-        found.extend([(name, path) for path, node in nodes_of(expression) if is_open(node, kind)])
-    return tuple(found)
+        for path, node in nodes_of(expression):
+            kind = open_kind(node)
+            if kind is not None:
+                found[kind].append((name, path))
+    return found

@@ -1,6 +1,6 @@
 """Rests: expressions at work, with places where a maker has to answer."""
 
-from anymaker.trees import children_of, is_open
+from anymaker.trees import children_of, open_kind
 
 
 class Rests:
@@ -41,6 +41,6 @@ def rest_of(expression, part, path=()):
     parts = list(expression)
     for at in children_of(expression):
         parts[at] = rest_of(expression[at], part, path + (at,))
-    if is_open(expression, "order") or is_open(expression, "walk") or is_open(expression, "fill"):
+    if open_kind(expression) is not None:
         parts.append((part, path))
     return tuple(parts)

@@ -22,6 +22,12 @@ def requests(document, program, maker, inputs, most):
 def course(document, program, maker, inputs, most):
     """The showing of a run and its requests; most may be any number here."""
     machine = Machine(Ground(document, program), maker[1])
+    return course_by(machine, inputs, most, lambda number, state, kind: answer_of(document, maker, state, kind))
+
+
+def course_by(machine, inputs, most, answer):
+    """The same by a function from a standing, a state and a kind to an option and the next state."""
+    document = machine.ground.document
     number, state = machine.begin(), 0
     events, made, seen = [], [], {}
     end = None
@@ -35,7 +41,7 @@ def course(document, program, maker, inputs, most):
         if step[0] in ("ends", "ruined"):
             end = step[0]
         elif step[0] == "chooses":
-            option, state = answer_of(document, maker, state, step[1])
+            option, state = answer(number, state, step[1])
             made.append((step[1], step[2], option))
             number = step[3][options_of(document, step[1]).index(option)]
             end = "ruined" if number is None else None

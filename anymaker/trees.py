@@ -1,6 +1,6 @@
 """Nodes of expressions: which items of a node are expressions, and what else it needs."""
 
-from anymaker.forms import OPERATIONS, is_between, is_word
+from anymaker.forms import OPERATIONS, is_between, is_number, is_word
 from anymaker.words import is_name
 
 CHILDREN = {
@@ -51,11 +51,24 @@ def nodes_of(expression):
     found = []
     pending = [((), expression)]
     while pending:
-        path, node = pending.pop()
-        found.append((path, node))
-        for at in reversed(children_of(node)):
+        pair = pending.pop()
+        found.append(pair)
+        path, node = pair
+        for at in CHILDREN.get(node[0], ())[::-1]:
             pending.append((path + (at,), node[at]))
     return found
+
+
+def node_at(expression, path):
+    """The node to which a path leads, None for any value that is no path to one."""
+    if not isinstance(path, tuple):
+        return None
+    node = expression
+    for at in path:
+        if not is_number(at) or at not in children_of(node):
+            return None
+        node = node[at]
+    return node
 
 
 def is_tree(thing, hole):
@@ -76,14 +89,23 @@ def named_in(expression):
     return sorted(set([node[1] for _, node in nodes_of(expression) if node[0] in ("name", "set", "each")]))
 
 
-def called_in(expression):
-    return sorted(set([node[1] for _, node in nodes_of(expression) if node[0] == "call"]))
+def names_only(expression, variables, parts):
+    """Whether an expression names these variables alone, and calls these parts alone."""
+    pending = [expression]
+    while pending:
+        node = pending.pop()
+        if node[0] in ("name", "set", "each") and node[1] not in variables:
+            return False
+        if node[0] == "call" and node[1] not in parts:
+            return False
+        pending.extend([node[at] for at in children_of(node)])
+    return True
 
 
-def is_open(node, kind):
-    """Whether a node that is not pinned gets an option of this kind."""
-    if kind == "order":
-        return node[0] in OPERATIONS and len(node) == 3
-    if kind == "walk":
-        return node[0] == "each" and len(node) == 5
-    return node[0] == "name" and len(node) == 2
+def open_kind(node):
+    """The kind of which a node gets an option that is not pinned, None if there is none."""
+    if node[0] == "name":
+        return "fill" if len(node) == 2 else None
+    if node[0] == "each":
+        return "walk" if len(node) == 5 else None
+    return "order" if node[0] in OPERATIONS and len(node) == 3 else None

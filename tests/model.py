@@ -1,5 +1,7 @@
 """The document's machine once more, written straight from its words over plain tuples, and slow."""
 
+import functools
+
 OPERATIONS = ("plus", "minus", "times", "same", "less", "over")
 KINDS = ("order", "walk", "fill", "width")
 INNER = {"set": (2,), "show": (1,), "if": (1, 2, 3), "then": (1, 2), "while": (1, 2), "each": (4,)}
@@ -49,6 +51,7 @@ def answer(document, program, choice, kind, place):
     return item
 
 
+@functools.lru_cache(maxsize=40000)
 def moves(document, program, choice, standing):
     size = 2 ** choice[3]
     rest, memory = standing
@@ -167,9 +170,11 @@ def standings(document, program, choice, start=None):
 
 def closed(document, program, choice, lot):
     found = list(lot)
+    known = set(found)
     for standing in found:
         for one in silent(moves(document, program, choice, standing)):
-            if one not in found:
+            if one not in known:
+                known.add(one)
                 found.append(one)
     return found
 

@@ -135,7 +135,7 @@ class ComingTest(unittest.TestCase):
 class IsComingTest(unittest.TestCase):
     def test_nearly_right(self):
         checked = {True: 0, False: 0}
-        for told, thing in small_cases(24, 14, 12, depth=2, names=("x",)):
+        for told, thing in small_cases(24, 8, 12, depth=2, names=("x",)):
             every = sorted(model.showings(told, thing, choices(told, thing), 1))
             for showing in every[:2] + [(events, end) for events, _ in every[:1] for end in ENDS]:
                 found = comes(told, thing, showing)

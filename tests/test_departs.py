@@ -244,7 +244,7 @@ class DeparturesTest(unittest.TestCase):
                 if len(str(found)) > 700:
                     continue
                 departing += max(item[3] for item in found) > 0
-                for other in list(nearly(found)) + [found + found[:1], found[::-1]]:
+                for other in list(nearly(found))[::2] + [found + found[:1], found[::-1]]:
                     for least in (0, many, many + 1):
                         expected = model_is_floor(told, thing, maker, showing, least, other)
                         self.assertIs(is_floor(told, thing, maker, showing, least, other), expected)

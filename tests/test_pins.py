@@ -317,7 +317,7 @@ class ForcingTest(unittest.TestCase):
 
     def test_many(self):
         found = [0, 0]
-        for told, thing in plain_cases(124, 45, 60):
+        for told, thing in plain_cases(124, 28, 60):
             kinds = kinds_of(told, thing)
             for writing in list(kinds)[::5]:
                 for many in range(len(writing) + 1):

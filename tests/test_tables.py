@@ -221,8 +221,8 @@ class IsTableTest(unittest.TestCase):
         words = Words(told, old, old)
         found = {True: 0, False: 0}
         for choice, at, lot, wide in rows:
-            for less in [lot] + [words.least(lot[cut:], False) for cut in range(len(lot) + 1)]:
-                for near in [wide] + [words.least(wide[cut:], True) for cut in range(0, len(wide) + 1, 4)]:
+            for less in [lot] + [words.least(lot[cut:], False) for cut in range(0, len(lot) + 1, 2)]:
+                for near in [wide] + [words.least(wide[cut:], True) for cut in range(0, len(wide) + 1, 7)]:
                     row = (choice, at, less, near)
                     thing = rows + (row,) if row not in rows else rows
                     expected = words.is_table(base, base, thing)

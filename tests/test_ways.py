@@ -264,7 +264,7 @@ class WayTest(unittest.TestCase):
 
     def test_nearly_right_bars(self):
         checked = {True: 0, False: 0}
-        for told, thing in small_cases(63, 16, 12, depth=2, names=("x",)):
+        for told, thing in small_cases(63, 9, 12, depth=2, names=("x",)):
             pairs = pairs_of(told)
             for goal in GOALS:
                 bans = [(), tuple(pairs[:1]), tuple(pairs[-1:])] + list(least_bans(told, thing, goal)[:1])
