@@ -51,6 +51,9 @@ class Field:
     def told(self, number):
         return self.machine_at(number).told(self.own(number))
 
+    def memory(self, number):
+        return self.machine_at(number).pairs[self.own(number)][1]
+
     def ends(self, number):
         """Those of "ends", "never", "ruined" to which the standing itself can come."""
         step = self.step(number)

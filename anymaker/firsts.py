@@ -10,10 +10,12 @@ class Firsts:
     """What FIRST shows from each standing of a field, as rows like those of machines.
 
     at[number] is the index of the row of a standing; rows are equal or unlike by their classes.
+    If ends are told, rows that end are unlike as well by their worth and memory.
     """
 
-    def __init__(self, field):
+    def __init__(self, field, are_ends_told=False):
         self.field = field
+        self.are_ends_told = are_ends_told
         self.rows = [("never",), ("ruined",)]
         self.at = {}
         onward = self.onward()
@@ -63,6 +65,8 @@ class Firsts:
             return ("shows", step[1][1], self.at[begin + step[2]])
         if step[0] == "asks":
             return ("asks", tuple([self.at[begin + reached] for reached in step[1]]))
+        if self.are_ends_told and step[0] == "ends":
+            return (step + (self.field.memory(number),),)
         return step[:1]
 
     def class_at(self, number):
