@@ -31,6 +31,18 @@ def agree(document, one, other):
     return all([one[at] == other[at] for at, kind in enumerate(KINDS) if scope_of(document, kind) == "ever"])
 
 
+def ever_part(document, choice):
+    """What of a choice is so for ever: its options of such kinds, None for others."""
+    return tuple([item if scope_of(document, kind) == "ever" else None for kind, item in zip(KINDS, choice)])
+
+
+def ever_parts(document):
+    """All that may be so for ever, in the sequence of choices."""
+    lets = [options_of(document, kind) if scope_of(document, kind) == "ever" else (None,) for kind in KINDS]
+    order, walk, fill, width = lets
+    return [(a, b, c, d) for a in order for b in walk for c in fill for d in width]
+
+
 def extending(document, program, base):
     """The indexes of the choices that extend a base."""
     rows = choices_of(document, program)
