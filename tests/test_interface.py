@@ -56,7 +56,36 @@ FUNCTIONS = {
     "pintrees": ("pin_tree(document, program, pins)", "is_pin_tree(document, program, pins, thing)"),
     "leastpins": ("least_pins(document, program)", "idle_places(document, program)"),
     "shaking": ("holding(document, program, writing)", "shaking(document, program, writing)"),
+    "everywhere": ("idle_everywhere(document, piece)", "told_by(document, piece, path)",
+                   "is_told_by(document, piece, path, thing)"),
+    "grades": ("graded(document)", "is_under(document, other)", "below(document)", "common(document, other)",
+               "spanned(document, other)"),
+    "asking": ("least_documents(document, program)", "lacking(document, program)", "asks(document, program)",
+               "refuses(document, program)", "common_asks(document, programs)", "common_least(document, programs)"),
+    "outcomes": ("outcomes(document, program, part, memory)",),
+    "contracts": ("is_contract(document, program, thing)", "breaches(document, program, contract)",
+                  "is_kept(document, program, contract)", "agreed(document, program, one, other)",
+                  "merged(document, program, one, other)"),
+    "ends": ("least_contract(document, program)", "weakest_contract(document, program)"),
+    "traces": ("is_trace(document, program, thing)", "blame(document, program, contract, trace)"),
+    "exchanges": ("exchanged(program, part, piece)",),
+    "deals": ("deal(document, records)", "is_deal(document, records, thing)", "quarrel(document, records)",
+              "left_open(document, records, kind)"),
+    "plains": ("plain_document(document, level)", "is_inside(document, second, level)"),
+    "telling": ("telling(document, second, level)", "is_telling(document, second, level, thing)"),
+    "keeping": ("keeping(document, program, barred)", "is_keeping(document, program, barred, thing)"),
+    "homing": ("homing(document, program, barred, most)", "is_homing(document, program, barred, most, thing)",
+               "fewest_asks(document, program, barred)"),
+    "playing": ("played(document, program, choice, options, inputs, most)",),
+    "blindness": ("blind_keeping(document, program, barred)", "is_blind_keeping(document, program, barred, thing)"),
+    "sharing": ("keeping_all(document, programs, barred)", "is_keeping_all(document, programs, barred, thing)"),
+    "reading": ("can_follow(text)", "read(text)", "read_rows(program, part, text)"),
+    "writing": ("text_of(thing)",),
+    "endings": ("completed(text)",),
+    "patches": ("span(text, part, path)", "cut(text, part, path)", "put(text, part, path, rows)"),
+    "others": ("others(text)",),
 }
+METHODS = {"desk": {"Desk": ("__init__(self, text)", "say(self, line)")}}
 PLAIN_ERRORS = (
     "BadBarred BadBase BadChoice BadContext BadContract BadDocument BadEnds BadEvents BadGoal BadGrouping BadHeld "
     "BadInputs BadKept BadKind BadLevel BadLot BadMachine BadMaker BadMany BadMemory BadModes BadMost BadNames "
@@ -77,6 +106,20 @@ class InterfaceTest(unittest.TestCase):
                 function = getattr(found, name)
                 self.assertEqual(function.__module__, "anymaker." + module)
                 self.assertEqual(list(inspect.signature(function).parameters), parameters.split(", "))
+
+    def test_classes_define_their_methods_themselves(self):
+        for module, classes in METHODS.items():
+            found = importlib.import_module("anymaker." + module)
+            for name, rows in classes.items():
+                self.assertEqual(getattr(found, name).__module__, "anymaker." + module)
+                for row in rows:
+                    method, parameters = row[:-1].split("(")
+                    self.assertIn(method, vars(getattr(found, name)))
+                    self.assertEqual(list(inspect.signature(vars(getattr(found, name))[method]).parameters), parameters.split(", "))
+
+    def test_all_modules_of_the_document_are_here(self):
+        from tests.test_language import ORDER
+        self.assertEqual(set(ORDER), set(FUNCTIONS) | set(METHODS) | {"errors"})
 
     def test_plain_errors(self):
         errors = importlib.import_module("anymaker.errors")

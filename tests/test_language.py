@@ -163,7 +163,7 @@ class LanguageTest(unittest.TestCase):
 
     def test_statements(self):
         barred = (ast.Global, ast.AsyncFunctionDef, ast.Div, ast.MatMult, ast.Pow, ast.Starred, ast.AnnAssign,
-                  ast.Yield, ast.YieldFrom, ast.NamedExpr, ast.GeneratorExp, ast.Try, ast.With, ast.Match)
+                  ast.Yield, ast.YieldFrom, ast.NamedExpr, ast.GeneratorExp, ast.With, ast.Match)
         for name, _, tree in sources():
             for node in ast.walk(tree):
                 self.assertNotIsInstance(node, barred, f"{name}:{getattr(node, 'lineno', 0)}")
@@ -176,6 +176,21 @@ class LanguageTest(unittest.TestCase):
                 if isinstance(node, ast.Raise):
                     self.assertIsInstance(node.exc, ast.Call, f"{name}:{node.lineno}")
 
+    def test_own_errors_alone_are_caught(self):
+        own = {node.name for name, _, tree in sources() if name == "errors.py" for node in tree.body if isinstance(node, ast.ClassDef)}
+        for name, _, tree in sources():
+            for node in ast.walk(tree):
+                if isinstance(node, ast.ExceptHandler):
+                    self.assertIsNone(node.name, name)
+                    self.assertIsInstance(node.type, ast.Name, name)
+                    self.assertIn(node.type.id, own, name)
+
+    def test_tables_of_functions_are_not_called_straight(self):
+        for name, _, tree in sources():
+            for node in ast.walk(tree):
+                if isinstance(node, ast.Call):
+                    self.assertNotIsInstance(node.func, ast.Subscript, f"{name}:{node.lineno}")
+
     def test_methods_and_keywords(self):
         own = set()
         for _, _, tree in sources():
@@ -186,7 +201,7 @@ class LanguageTest(unittest.TestCase):
             for node in ast.walk(tree):
                 if isinstance(node, ast.Call) and isinstance(node.func, ast.Attribute):
                     self.assertTrue(node.func.attr in METHODS or node.func.attr in own, f"{name}:{node.lineno}")
-                fine = (("sorted", "key"), ("enumerate", "start"), ("min", "key"), ("max", "default"))
+                fine = (("sorted", "key"), ("enumerate", "start"), ("min", "key"), ("max", "default"), ("min", "default"))
                 if isinstance(node, ast.Call):
                     for keyword in node.keywords:
                         self.assertIn((called(node), keyword.arg), fine, name)
@@ -248,8 +263,11 @@ class LanguageTest(unittest.TestCase):
                 self.assertIsInstance(node, fine, name)
                 if isinstance(node, ast.Assign):
                     self.assertEqual(len(node.targets), 1)
+                    functions = {n.name for n in tree.body if isinstance(n, ast.FunctionDef) and n.lineno < node.lineno}
                     for inner in ast.walk(node.value):
                         self.assertNotIsInstance(inner, (ast.Call, ast.ListComp, ast.DictComp), name)
+                        if isinstance(inner, ast.Name):
+                            self.assertIn(inner.id, functions, f"{name}:{node.lineno}")
 
 
 if __name__ == "__main__":

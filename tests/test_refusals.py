@@ -74,6 +74,36 @@ NO_PINS = (None, 1, [], list(PINS), PINS * 2, WRITING[::-1], ((PLACE, "up"),), (
            ((("body", (1, 1)), False),), ((("body", (1, 1)), "none"),), ([PLACE, "left"],))
 NO_OWN_PINS = NO_PINS + (((("body", (1, 1)), 2),),)
 NO_WRITING = NO_OWN_PINS + ((), PINS, WRITING[1:])
+NO_OWN_PIECE = (None, ONE[:1], ("call", "p"), ("hole",), ["number", 1], then(name("a"), name("b"), name("c"), name("d")),
+                then(*[ONE] * 16), ("plus", ONE, ("call", "p")))
+NO_OPEN_PATH = (None, 1, (), [1], (1, 1), (2,), (True,), (3,), (1, 0), ("1",), ((1,),))
+LOOSE = document(("part", ("left", "right")), ("ever", ("up",)), ("anew", (0, "none")), ("run", (1,)))
+ENDS = ((0, (None, 1)), (1, (0, 0)))
+CONTRACT = ("contract", ((((None, None), ENDS), ((None, 0), ())), (((None, None), ENDS),)))
+NO_CONTRACT = (None, (), CONTRACT[:1], list(CONTRACT), ("contract", CONTRACT[1][:1]), ("contract", CONTRACT[1] * 2),
+               ("contract", (CONTRACT[1][0][::-1], CONTRACT[1][1])), ("contract", (CONTRACT[1][0] + CONTRACT[1][0][:1], ())),
+               ("contract", ((((None, 2), ()),), ())), ("contract", ((((None, True), ()),), ())), ("contract", ((((None,), ()),), ())),
+               ("contract", ((((0, 0), ENDS[::-1]),), ())), ("contract", ((((0, 0), ENDS + ENDS[1:]),), ())),
+               ("contract", ((((0, 0), ((2, (0, 0)),)),), ())), ("contract", ((((0, 0), [ENDS[0]]),), ())), ("contracts", CONTRACT[1]))
+TRACE = (("begins", "body", (None, None)),)
+NO_TRACE = (None, 1, [], list(TRACE), TRACE * 2, (("begins", "p", (None, None)),), (("begins", "body", (None, 0)),), ("ruined",),
+            (("ruined",),), (("ends", 0, (None, None)),), TRACE + (("ends", True, (None, None)),), (("begins", "body", [None, None]),))
+RECORD = (THING, (1, 2), ((("asked", 1), ("shown", 0)), "more"))
+NO_RECORDS = (None, 1, [], (), RECORD, [RECORD] * 9, [list(RECORD)], [RECORD[:2]], [(THING, (2, 1), RECORD[2])], [(THING, (1, 8), RECORD[2])],
+              [(THING, (1,), ((), "waits"))], [(THING, (1,), ((), "ruined"))], [(THING, (), ((("asked", 1),), "ends"))], {RECORD: 1},
+              [RECORD, None], [(None,) + RECORD[1:]], [(THING, (1,), ([], "ends"))], [(THING, (1,), ((("shown", True),), "ends"))])
+NO_BARRED = (None, 1, [], [1], (8,), (-1,), (True,), ("1",), (1, 0), (1, 1), (None,), {1: 1})
+NO_ASKS = (-1, 31, True, "1", [1], (), "None")
+NO_OPTIONS = (None, 1, [], (), {0: "left"}, {True: None}, {"0": None}, {10 ** 6: None}, {-1: None}, {None: None}, {0: 0}, {0: False},
+              {1: None}, {1: "none "}, {1: False}, {1: 1}, {2: 0})
+TEXT = "program x\npart p\n  ask\nbody show x\n"
+NO_TEXT = (None, 1, [], ("program",), "program", "program x", "program x\nbody\n", "document ahead", "program x\nbody y", "body", "",
+           "program x\nbody\tx", "program x\nbody \u00e9", b"program x", "Program x\nbody x", "program x x\nbody x")
+NO_BEGINNING = tuple(text for text in NO_TEXT if text not in ("program", "program x", "program x\nbody\n", "document ahead", ""))
+WHOLE_DOCUMENT = "document ahead order run left\n               walk run up\n               fill run 0\n               width run 1"
+NO_PARTS = (None, "q", "x", ["p"], "", 1, "program", ("p",))
+NO_PATHS = (None, 1, [], [1], (0,), (2,), (1, 1), (True,), ("1",), "-", (1, ()))
+NO_ROWS = (None, 1, [], ("ask",), "", "  ", "y", "call q", "x x", "show", "group x", "group\n  x\n  x", "part q", "body x", "plus x", "\tx")
 
 DOCUMENT = ("document", TOLD, NO_DOCUMENT, "BadDocument")
 PROGRAM = ("program", THING, NO_PROGRAM, "BadProgram")
@@ -100,7 +130,75 @@ KEPT = ("kept", ("order", "width"), NO_KEPT, "BadKept")
 PLAIN_DOCUMENT = ("document", PLAIN, NO_PLAIN, "BadDocument")
 PIN = ("pins", PINS, NO_OWN_PINS, "BadPins")
 WRITINGS = ("writing", WRITING, NO_WRITING, "BadPins")
+OWN_PIECE = ("piece", then(("plus", ONE, ONE), name("x")), NO_OWN_PIECE, "BadPiece")
+OPEN_PATH = ("path", (1,), (None, 1, (), [1], (1, 1), (True,), (3,), (1, 0), ("1",), ((1,),)), "BadPath")
+LOOSE_DOCUMENT = ("document", LOOSE, NO_DOCUMENT, "BadDocument")
+CONTRACTS = ("contract", CONTRACT, NO_CONTRACT, "BadContract")
+PROGRAMS = ("programs", [THING, program(ONE)], (None, 1, [], (), THING, [None], [THING, ()], {THING: 1}), "BadPrograms")
+FEW_PROGRAMS = PROGRAMS[:2] + (PROGRAMS[2] + ([THING] * 5,), "BadPrograms")
+RECORDS = ("records", [RECORD, RECORD], NO_RECORDS, "BadRecords")
+LEVEL = ("level", 2, (None, 0, 4, True, "1", [1], (2,)), "BadLevel")
+SECOND = ("second", document(), NO_DOCUMENT, "BadSecond")
+BARRED = ("barred", (0, 7), NO_BARRED, "BadBarred")
+TEXTS = ("text", TEXT, NO_TEXT, "BadText")
+PART = ("part", "body", NO_PARTS, "BadPart")
+PATH = ("path", (1,), NO_PATHS, "BadPath")
+ROWS = ("text", "ask\ncall p\ny", tuple(rows for rows in NO_ROWS if rows != "y") + ("z", "call body"), "BadText")
 SIGNATURES = {
+    "idle_everywhere": (PLAIN_DOCUMENT, OWN_PIECE),
+    "told_by": (PLAIN_DOCUMENT, OWN_PIECE, OPEN_PATH),
+    "is_told_by": (PLAIN_DOCUMENT, OWN_PIECE, OPEN_PATH, ANY),
+    "graded": (DOCUMENT,),
+    "is_under": (DOCUMENT, ("other", document(), NO_DOCUMENT, "BadDocument")),
+    "below": (DOCUMENT,),
+    "common": (DOCUMENT, ("other", document(), NO_DOCUMENT, "BadDocument")),
+    "spanned": (DOCUMENT, ("other", document(), NO_DOCUMENT, "BadDocument")),
+    "least_documents": (DOCUMENT, PROGRAM),
+    "lacking": (DOCUMENT, PROGRAM),
+    "asks": (DOCUMENT, PROGRAM),
+    "refuses": (DOCUMENT, PROGRAM),
+    "common_asks": (DOCUMENT, PROGRAMS),
+    "common_least": (DOCUMENT, PROGRAMS),
+    "outcomes": (LOOSE_DOCUMENT, PROGRAM, ("part", "p", NO_PARTS, "BadPart"),
+                 ("memory", (None, 1), (None, 1, (), (0,), [0, 0], (0, 2), (0, True), ("0", 0), (0, 0, 0)), "BadMemory")),
+    "is_contract": (LOOSE_DOCUMENT, PROGRAM, ANY),
+    "breaches": (LOOSE_DOCUMENT, PROGRAM, CONTRACTS),
+    "is_kept": (LOOSE_DOCUMENT, PROGRAM, CONTRACTS),
+    "agreed": (LOOSE_DOCUMENT, PROGRAM, ("one", CONTRACT, NO_CONTRACT, "BadContract"), ("other", CONTRACT, NO_CONTRACT, "BadContract")),
+    "merged": (LOOSE_DOCUMENT, PROGRAM, ("one", CONTRACT, NO_CONTRACT, "BadContract"), ("other", CONTRACT, NO_CONTRACT, "BadContract")),
+    "least_contract": (("document", document(), NO_DOCUMENT, "BadDocument"), PROGRAM),
+    "weakest_contract": (LOOSE_DOCUMENT, PROGRAM),
+    "is_trace": (LOOSE_DOCUMENT, PROGRAM, ANY),
+    "blame": (LOOSE_DOCUMENT, PROGRAM, CONTRACTS, ("trace", TRACE, NO_TRACE, "BadTrace")),
+    "exchanged": (PROGRAM, ("part", "p", NO_PARTS, "BadPart"),
+                  ("piece", ASK, (None, 1, (), ("call", "p"), ("call", "body"), name("z"), ("hole",), ["ask"], ("number", 8)), "BadPiece")),
+    "deal": (DOCUMENT, RECORDS),
+    "is_deal": (DOCUMENT, RECORDS, ANY),
+    "quarrel": (DOCUMENT, RECORDS),
+    "left_open": (DOCUMENT, RECORDS, ("kind", "order", (None, "fill", "width", 1, ["order"], "orders", ("walk",)), "BadKind")),
+    "plain_document": (DOCUMENT, LEVEL),
+    "is_inside": (DOCUMENT, SECOND, LEVEL),
+    "telling": (DOCUMENT, SECOND, LEVEL),
+    "is_telling": (DOCUMENT, SECOND, LEVEL, ANY),
+    "keeping": (DOCUMENT, PROGRAM, BARRED),
+    "is_keeping": (DOCUMENT, PROGRAM, BARRED, ANY),
+    "homing": (DOCUMENT, PROGRAM, BARRED, ("most", 3, NO_ASKS, "BadMost")),
+    "is_homing": (DOCUMENT, PROGRAM, BARRED, ("most", None, NO_ASKS, "BadMost"), ANY),
+    "fewest_asks": (DOCUMENT, PROGRAM, BARRED),
+    "played": (DOCUMENT, PROGRAM, CHOICES, ("options", {0: None, 1: 0, 2: None}, NO_OPTIONS, "BadOptions")) + RUN[3:],
+    "blind_keeping": (DOCUMENT, PROGRAM, BARRED),
+    "is_blind_keeping": (DOCUMENT, PROGRAM, BARRED, ANY),
+    "keeping_all": (DOCUMENT, FEW_PROGRAMS, BARRED),
+    "is_keeping_all": (DOCUMENT, FEW_PROGRAMS, BARRED, ANY),
+    "can_follow": (("text", TEXT, NO_BEGINNING, "BadText"),),
+    "read": (TEXTS,),
+    "read_rows": (PROGRAM, PART, ROWS),
+    "text_of": (("thing", THING, (None, 1, (), "program", ONE, list(THING), THING[:3], TOLD[:5]), "BadThing"),),
+    "completed": (("text", "program x\nbody", NO_BEGINNING, "BadText"),),
+    "span": (TEXTS, PART, PATH),
+    "cut": (TEXTS, PART, PATH),
+    "put": (TEXTS, PART, PATH, ("rows", "ask\nx", NO_ROWS, "BadText")),
+    "others": (TEXTS,),
     "labelling": (DOCUMENT, PROGRAM, KEPT),
     "is_labelling": (DOCUMENT, PROGRAM, KEPT, ANY),
     "trouble": (DOCUMENT, PROGRAM, KEPT),
@@ -199,6 +297,12 @@ def function_of(told):
     raise KeyError(told)
 
 
+def choices_of_model(told, thing):
+    """The first choice of a program."""
+    from anymaker.choices import choices
+    return choices(told, thing)[0]
+
+
 class RefusalTest(unittest.TestCase):
     def check(self, told, values, error):
         with self.assertRaises(errors.MakerError, msg=(told, values)) as caught:
@@ -250,7 +354,7 @@ class RefusalTest(unittest.TestCase):
             if signature[-1] == ANY:
                 for thing in STRANGE + (("comes",), ("comes", 1, 2), ("not", ()), ("not", 1), ((),), (((),),), ((1, 2, 3),)):
                     values = [one[1] for one in signature[:-1]] + [thing]
-                    expected = told == "are_pins" and thing == ()
+                    expected = told in ("are_pins", "is_trace") and thing == ()
                     self.assertIs(function_of(told)(*values), expected, (told, thing))
         for told in ("is_name", "is_expression", "is_program", "is_document", "is_piece", "is_context", "is_terms",
                      "is_machine"):
@@ -301,6 +405,58 @@ class TooManyTest(unittest.TestCase):
         more = program(then(*[("plus", ONE, ONE)] * 9))
         for told in ("set_lots", "ruin_lots"):
             self.check(told, loose, more, 1)
+
+    def test_part_10_and_12(self):
+        for told in ("keeping", "fewest_asks", "blind_keeping"):
+            self.check(told, WIDE, SUMS, ())
+        for told in ("is_keeping", "is_blind_keeping"):
+            self.check(told, WIDE, SUMS, (), None)
+        self.check("homing", WIDE, SUMS, (), None)
+        self.check("is_homing", WIDE, SUMS, (), 3, None)
+        self.check("keeping_all", WIDE, [program(ONE), SUMS], ())
+        self.check("is_keeping_all", WIDE, (SUMS,), (), None)
+        self.check("played", WIDE, SUMS, (("left",) * 8, "up", 0, 1), {}, [], 3)
+        record = (SUMS, (), ((), "ends"))
+        for told in ("deal", "quarrel"):
+            self.check(told, WIDE, [record])
+        self.check("is_telling", WIDE, TOLD, 1, [record])
+
+    def test_more_than_2000_standings(self):
+        """Of one choice, behind all other errors, and behind more than 400 choices."""
+        far = program(then(*[put(one, ASK) for one in ("x", "y", "z", "v")]), ("x", "y", "z", "v"))
+        told = document(("run", ("left", "right")), fill=("place", (0, 1, 2, 3)), width=("run", (3,)))
+        choice = choices_of_model(told, far)
+        for name_, values in (("keeping", (told, far, ())), ("is_keeping", (told, far, (), None)), ("homing", (told, far, (), 3)),
+                              ("is_homing", (told, far, (), None, None)), ("fewest_asks", (told, far, ())),
+                              ("blind_keeping", (told, far, ())), ("is_blind_keeping", (told, far, (), None)),
+                              ("keeping_all", (told, [far], ())), ("is_keeping_all", (told, [program(ONE), far], (), None)),
+                              ("played", (told, far, choice, {}, [], 3)), ("standings", (told, far, choice))):
+            with self.assertRaises(errors.TooMany, msg=name_) as caught:
+                function_of(name_)(*values)
+            self.assertEqual(caught.exception.most, 2000, name_)
+        for name_, values, error in (("keeping", (told, far, None), "BadBarred"), ("homing", (told, far, (), 31), "BadMost"),
+                                     ("played", (told, far, choice, {0: 1}, [], 3), "BadOptions"),
+                                     ("played", (told, far, choice, {}, [8], 3), "BadInputs"),
+                                     ("played", (told, far, choice, {}, [], 201), "BadMost"),
+                                     ("keeping_all", (told, [far], (8,)), "BadBarred")):
+            with self.assertRaises(getattr(errors, error)):
+                function_of(name_)(*values)
+
+    def test_loose_documents_come_behind_documents(self):
+        tight = document(("run", ("left", "right")))
+        for told in ("outcomes", "is_contract", "breaches", "is_kept", "agreed", "merged", "least_contract", "weakest_contract",
+                     "is_trace", "blame"):
+            many = len(SIGNATURES[told]) - 1
+            for thing, error in ((None, errors.BadDocument), (tight, errors.Tight), (LOOSE, errors.BadProgram)):
+                with self.assertRaises(error):
+                    function_of(told)(thing, *[None] * many)
+
+    def test_unlike_in_ruin_comes_behind_documents(self):
+        for told in ("common", "spanned"):
+            for one, other, error in ((None, document(ruin="whole"), errors.BadDocument), (document(), None, errors.BadDocument),
+                                      (document(), document(ruin="whole"), errors.BadRuin)):
+                with self.assertRaises(error):
+                    function_of(told)(one, other)
 
     def test_other_errors_come_first(self):
         for told, values, error in (
