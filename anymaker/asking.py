@@ -62,12 +62,12 @@ def has_all(document, programs):
     """The test whether by a document below each program shows all that it does by this one."""
     whole = graded_of(document)
     pairs = [(program, sheet_of(whole, program)) for program in programs]
-    return lambda other: all([sheet_of(other, program) == told for program, told in pairs])
+    return lambda other: all([sheet_of(other, one) == shown for one, shown in pairs])
 
 
 def strays(programs):
     """The test whether by a document below some program is not portable."""
-    return lambda other: not all([Whole(other, program).is_steady(()) for program in programs])
+    return lambda other: not all([Whole(other, one).is_steady(()) for one in programs])
 
 
 class Below:

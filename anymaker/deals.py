@@ -142,15 +142,14 @@ class Dealing:
 
     def deal_with(self, ever, lot):
         """The same with what is so for ever."""
-        chosen = {}
+        found = []
         for index in lot:
-            program = self.programs[index]
-            if program not in chosen:
-                same = [one for one in lot if self.programs[one] == program]
-                chosen[program] = self.base_for(ever, index, same)
-        if None in list(chosen.values()):
-            return None
-        return tuple([self.givers[index][chosen[self.programs[index]]] for index in lot])
+            same = [one for one in lot if self.programs[one] == self.programs[index]]
+            base = self.base_for(ever, index, same)
+            if base is None:
+                return None
+            found.append(self.givers[index][base])
+        return tuple(found)
 
     def base_for(self, ever, index, same):
         """The first base with what is so for ever by which all of these records can be given, or None."""

@@ -12,7 +12,7 @@ def completed(text):
     """A whole text that begins with this one, but for blanks and line feeds behind its last word."""
     layout = laid_out(text)
     found = text.rstrip(" \n")
-    here, below = layout.wanted()
+    here, below = layout.all_wanted()
     while END not in here:
         if below:
             word = chosen(layout, below[0][2])
@@ -23,7 +23,7 @@ def completed(text):
             line, column = layout.line, layout.column + 1
             found = found + " " + word
         layout.take(word, line, column)
-        here, below = layout.wanted()
+        here, below = layout.all_wanted()
     return found + "\n"
 
 

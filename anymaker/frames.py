@@ -21,17 +21,17 @@ SLOT_WORDS = {
 
 
 class Frame:
-    """A head that stands as the word with this index at a column; sort tells what it is.
+    """A head that stands as the word with the index at, at a column; role tells what it is.
 
-    own are the words of its own row, listed the items of its list, rows what begins a line at its column.
+    own_words are the words of its own row, listed the items of its list, rows what begins a line at its column.
     """
 
-    def __init__(self, sort, word, begin, column):
-        self.sort = sort
+    def __init__(self, role, word, at, column):
+        self.role = role
         self.word = word
-        self.begin = begin
+        self.at = at
         self.column = column
-        self.own = []
+        self.own_words = []
         self.listed = []
         self.rows = []
         self.list_column = None
@@ -39,18 +39,18 @@ class Frame:
     def behind(self):
         """The index of the word behind all of its words."""
         inner = self.listed + self.rows
-        return inner[-1].behind() if inner else self.begin + len(self.own) + 1
+        return inner[-1].behind() if inner else self.at + len(self.own_words) + 1
 
     def is_block(self):
-        return self.sort in BLOCKS
+        return self.role in BLOCKS
 
     def fewest(self):
         """How many items its list has at least; all but blocks have just so many."""
-        if self.sort == "document":
+        if self.role == "document":
             return len(KINDS)
-        if self.sort in OPERATIONS or self.sort == "group":
+        if self.role in OPERATIONS or self.role == "group":
             return 2
-        return 1 if self.is_block() or self.sort in ("set", "show", "while", "if", "text") else 0
+        return 1 if self.is_block() or self.role in ("set", "show", "while", "if", "text") else 0
 
     def can_have_more(self):
         return self.is_block() or len(self.listed) < self.fewest()
@@ -59,14 +59,14 @@ class Frame:
         """Whether its list has to go on: a group is never the last item of a block."""
         if len(self.listed) < self.fewest():
             return True
-        return self.is_block() and self.listed[-1].sort == "group"
+        return self.is_block() and self.listed[-1].role == "group"
 
     def rows_wanted(self):
         """The words of which one has to begin a line at its column."""
-        here = [row.sort for row in self.rows]
-        if self.sort in ROWS:
-            return [word for word in ROWS[self.sort] if word not in here][:1]
-        if self.sort != "program" or "body" in here:
+        here = [row.role for row in self.rows]
+        if self.role in ROWS:
+            return [word for word in ROWS[self.role] if word not in here][:1]
+        if self.role != "program" or "body" in here:
             return []
         return ["body", "part"] if len(here) < MOST_PARTS else ["body"]
 
@@ -75,29 +75,29 @@ class Frame:
 
         names are the variables of the program, ahead the parts that may be called.
         """
-        if self.sort in KINDS:
+        if self.role in KINDS:
             return self.ruling_wanted()
-        slots = SLOTS.get(self.sort, ())
-        if self.sort in OPERATIONS:
+        slots = SLOTS.get(self.role, ())
+        if self.role in OPERATIONS:
             slots = ("side",)
-        if len(self.own) == len(slots):
+        if len(self.own_words) == len(slots):
             return [], False
-        slot = slots[len(self.own)]
+        slot = slots[len(self.own_words)]
         words = list(SLOT_WORDS.get(slot, ()))
         if slot == "variable":
             words = list(names)
         if slot == "part":
             words = list(ahead)
         if slot == "high":
-            words = list(FIGURES[FIGURES.index(self.own[-1]):])
+            words = list(FIGURES[FIGURES.index(self.own_words[-1]):])
         return words, slot not in OPTIONAL
 
     def ruling_wanted(self):
         """The same for a row of a document: a scope, and one or more options in order."""
-        options = [str(option) for option in OPTIONS[self.sort]]
-        if not self.own:
-            narrow = self.sort == "width"
+        options = [str(option) for option in OPTIONS[self.role]]
+        if not self.own_words:
+            narrow = self.role == "width"
             return ["ever", "program", "run"] + ([] if narrow else ["anew", "part", "place"]), True
-        if len(self.own) == 1:
+        if len(self.own_words) == 1:
             return options, True
-        return options[options.index(self.own[-1]) + 1:], False
+        return options[options.index(self.own_words[-1]) + 1:], False

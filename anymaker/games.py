@@ -49,7 +49,7 @@ class Game:
     def requests(self, number):
         return self.step(number)[0] == "chooses"
 
-    def is_over(self, number):
+    def is_end(self, number):
         return self.step(number)[0] == "ends"
 
     def answers(self, number):

@@ -67,7 +67,7 @@ def homing_entry(game, home, number, asks):
     reached = game.nexts(number)
     if game.asks(number):
         return (None, asks, 0) if all([is_home(home, one, asks - 1) for one in reached]) else None
-    if game.is_over(number):
+    if game.is_end(number):
         return (None, asks, 0)
     pairs = [(None, one) for one in reached]
     if game.requests(number):
@@ -86,7 +86,8 @@ def roaming_table(game, home, most):
     while pending:
         pair = pending.pop()
         if pair not in table:
-            table[pair], reached = roaming_on(game, home, pair[0], pair[1])
+            given, reached = roaming_on(game, home, pair[0], pair[1])
+            table[pair] = given
             pending.extend(reached)
     return table
 
@@ -173,7 +174,7 @@ def roams(game, table, pair):
         if not is_between(given, 0, 7):
             return False
         return (reached[given], less_one(left)) in table
-    if given is not None or game.is_over(number):
+    if given is not None or game.is_end(number):
         return False
     if game.is_spoiling(number) or game.asks(number):
         return True

@@ -37,7 +37,7 @@ def spoiling_entry(game, table, number):
     """The pair (input, rank) by what is in the table already, or None."""
     if game.is_spoiling(number):
         return (None, 0)
-    if game.is_over(number):
+    if game.is_end(number):
         return None
     reached = game.nexts(number)
     if game.asks(number):
@@ -129,7 +129,7 @@ def goes_to_spoil(game, table, number):
     """Whether a standing of a spoiling table spoils, or goes on to ones with lesser ranks."""
     if game.is_spoiling(number):
         return True
-    if game.is_over(number):
+    if game.is_end(number):
         return False
     given, rank = table[number]
     reached = game.nexts(number)

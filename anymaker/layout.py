@@ -15,8 +15,8 @@ class Layout:
     The first frame has no word: it is for a whole text, or for rows that are a block alone.
     """
 
-    def __init__(self, sort, names, ahead):
-        self.root = Frame(sort, "", 0, 0)
+    def __init__(self, role, names, ahead):
+        self.root = Frame(role, "", 0, 0)
         self.stack = [self.root]
         self.names = names
         self.ahead = ahead
@@ -24,13 +24,13 @@ class Layout:
         self.line = 1
         self.column = 1
 
-    def wanted(self):
+    def all_wanted(self):
         """What is wanted behind the words so far."""
         here, ways = self.ways()
         below = [(low, high, tuple(sorted(words))) for _, low, high, words in ways]
         return (tuple(sorted(here)), tuple(below[::-1]))
 
-    def is_whole(self):
+    def is_complete(self):
         return END in self.ways()[0]
 
     def ways(self):
@@ -58,9 +58,9 @@ class Layout:
 
     def item_words(self, frame):
         """The words with which the next item of a frame may begin."""
-        if frame.sort == "text":
+        if frame.role == "text":
             return ["document", "program"]
-        if frame.sort == "document":
+        if frame.role == "document":
             return list(KINDS[len(frame.listed):][:1])
         words = list(FIGURES) + list(self.names) + list(OPERATIONS) + list(HEADS)
         return words + ["call"] if self.ahead else words
@@ -72,7 +72,7 @@ class Layout:
             if not self.can_take(here, word):
                 return False
             if self.can_take(self.stack[-1].own_wanted(self.names, self.ahead)[0], word):
-                self.stack[-1].own.append(word)
+                self.stack[-1].own_words.append(word)
             else:
                 self.put_item(word, column)
         else:
@@ -94,11 +94,11 @@ class Layout:
     def taken_names(self):
         """The names that a new name at the last word's frame may not be."""
         frame = self.stack[-1]
-        return frame.own if frame.sort == "program" else self.ahead
+        return frame.own_words if frame.role == "program" else self.ahead
 
     def go_back_to(self, frame):
         """Ends all frames within this one, which go on no further."""
-        while self.stack[-1].begin != frame.begin or self.stack[-1].sort != frame.sort:
+        while self.stack[-1].at != frame.at or self.stack[-1].role != frame.role:
             self.stack.pop()
 
     def put_row(self, word, column):
@@ -110,19 +110,19 @@ class Layout:
         row = Frame(word, word, self.many, column)
         frame.rows.append(row)
         self.stack.append(row)
-        if frame.sort == "program":
-            self.names = list(frame.own)
-            self.ahead = [one.own[0] for one in frame.rows[:-1]]
+        if frame.role == "program":
+            self.names = list(frame.own_words)
+            self.ahead = [one.own_words[0] for one in frame.rows[:-1]]
 
     def put_item(self, word, column):
         frame = self.stack[-1]
-        item = Frame(self.sort_of(word), word, self.many, column)
+        item = Frame(self.role_of(word), word, self.many, column)
         if not frame.listed:
             frame.list_column = column
         frame.listed.append(item)
         self.stack.append(item)
 
-    def sort_of(self, word):
+    def role_of(self, word):
         if word in FIGURES:
             return "number"
         return "variable" if word in self.names else word

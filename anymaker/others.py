@@ -16,7 +16,7 @@ SLOTS = {
 def others(text):
     """The programs that these words may tell, ascending by their texts."""
     frame = read_layout(text).root.listed[0]
-    if frame.sort != "program":
+    if frame.role != "program":
         raise BadThing("the text tells a document")
     rows = [()]
     for part in frame.rows:
@@ -66,15 +66,15 @@ class Ways:
         return self.block_trees(0, len(self.frames))
 
     def ends_of_item(self, at):
-        sort = self.frames[at].sort
-        if is_row_word(sort):
+        role = self.frames[at].role
+        if is_row_word(role):
             return []
-        return self.ends_of_slots(slots_of(sort), at + 1)
+        return self.ends_of_slots(slots_of(role), at + 1)
 
     def ends_of_block(self, at):
         """A group is never the last item of a block."""
         ends = [end for middle in self.item_ends[at] for end in self.block_ends[middle]]
-        if self.frames[at].sort != "group":
+        if self.frames[at].role != "group":
             ends = ends + self.item_ends[at]
         return sorted(set(ends))
 
@@ -90,14 +90,14 @@ class Ways:
             return self.item_ends[at]
         if slot == "block":
             return self.block_ends[at]
-        return [at + 1] if at < len(self.frames) and self.frames[at].sort == slot else []
+        return [at + 1] if at < len(self.frames) and self.frames[at].role == slot else []
 
     def block_trees(self, at, end):
         """All expressions that the frames up to the end tell as a block."""
         key = ("block", at, end)
         if key not in self.known:
             found = []
-            if end in self.item_ends[at] and self.frames[at].sort != "group":
+            if end in self.item_ends[at] and self.frames[at].role != "group":
                 found = self.item_trees(at, end)
             for first, rest in self.fillings(("item", "block"), at, end):
                 found = found + [("then", first, rest)]
@@ -110,8 +110,8 @@ class Ways:
         key = ("item", at, end)
         if key not in self.known:
             frame = self.frames[at]
-            inner = self.fillings(slots_of(frame.sort), at + 1, end)
-            if frame.sort == "group":
+            inner = self.fillings(slots_of(frame.role), at + 1, end)
+            if frame.role == "group":
                 self.known[key] = [("then",) + pair for pair in inner]
             else:
                 self.known[key] = [told_head(frame, row) for row in inner]
@@ -138,10 +138,10 @@ class Ways:
         return [()]
 
 
-def slots_of(sort):
-    """What stands inside an item of this sort, one behind another."""
-    return ("item", "item") if sort in OPERATIONS else SLOTS.get(sort, ())
+def slots_of(role):
+    """What stands inside an item of this role, one behind another."""
+    return ("item", "item") if role in OPERATIONS else SLOTS.get(role, ())
 
 
-def is_row_word(sort):
-    return any([sort in ROWS[head] for head in ROWS])
+def is_row_word(role):
+    return any([role in ROWS[head] for head in ROWS])

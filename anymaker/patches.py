@@ -33,7 +33,7 @@ def put(text, part, path, rows):
     _, row, column = words[seat.first_word()]
     lines = text.split("\n")
     ahead = "\n".join(lines[:row - 1] + [lines[row - 1][:column - 1]])
-    if told[0] == "then" and not seat.is_block:
+    if told[0] == "then" and not seat.takes_several:
         inner = "group\n" + as_rows(rows.split("\n"), column - 1 + DEEPER)
     else:
         inner = as_rows(rows.split("\n"), column - 1)[column - 1:]
@@ -52,22 +52,22 @@ def as_rows(lines, depth):
 class Seat:
     """Where a node stands: the items from one on, of a block to its end, otherwise one alone.
 
-    is_block tells whether several items may stand in their place.
+    takes_several tells whether several items may stand in their place.
     """
 
-    def __init__(self, layout, frames, is_block):
+    def __init__(self, layout, frames, takes_several):
         self.layout = layout
         self.frames = frames
-        self.is_block = is_block
+        self.takes_several = takes_several
 
     def first_word(self):
-        return self.frames[0].begin
+        return self.frames[0].at
 
     def word_behind(self):
         return self.frames[-1].behind()
 
     def is_group(self):
-        return len(self.frames) == 1 and self.frames[0].sort == "group"
+        return len(self.frames) == 1 and self.frames[0].role == "group"
 
     def inner(self):
         """The same, for a group the items that it has."""
@@ -79,16 +79,16 @@ class Seat:
         if len(frames) > 1:
             return self.other(frames[:1], False) if at == 1 else self.other(frames[1:], True)
         frame = frames[0]
-        if frame.sort == "each":
+        if frame.role == "each":
             return self.other(frame.listed, True)
-        if frame.sort in ("while", "if") and at > 1:
+        if frame.role in ("while", "if") and at > 1:
             return self.other(frame.rows[at - 2].listed, True)
-        if frame.sort in ("set", "show", "while", "if"):
+        if frame.role in ("set", "show", "while", "if"):
             return self.other(frame.listed, False)
         return self.other(frame.listed[at - 1:at], False)
 
-    def other(self, frames, is_block):
-        return Seat(self.layout, frames, is_block)
+    def other(self, frames, takes_several):
+        return Seat(self.layout, frames, takes_several)
 
 
 def seat_of(text, part, path):

@@ -10,7 +10,7 @@ from anymaker.words import words_of
 
 def can_follow(text):
     """What is wanted behind all words."""
-    return laid_out(text).wanted()
+    return laid_out(text).all_wanted()
 
 
 def laid_out(text):
@@ -21,15 +21,15 @@ def laid_out(text):
 def filled_layout(layout, text):
     for word, line, column in words_of(text):
         if not layout.take(word, line, column):
-            raise BadText(line, column, layout.wanted())
+            raise BadText(line, column, layout.all_wanted())
     return layout
 
 
 def whole_layout(layout, text):
     """The layout of a text that is whole."""
     filled_layout(layout, text)
-    if not layout.is_whole():
-        raise BadText(layout.line, layout.column, layout.wanted())
+    if not layout.is_complete():
+        raise BadText(layout.line, layout.column, layout.all_wanted())
     return layout
 
 
@@ -54,14 +54,14 @@ def read_rows(program, part, text):
 
 def told_thing(frame):
     """The program or document of its frame."""
-    if frame.sort == "document":
-        return ("document",) + tuple([told_ruling(row) for row in frame.listed]) + (frame.own[0],)
-    parts = [(row.own[0], told_block(row.listed)) for row in frame.rows[:-1]]
-    return ("program", tuple(frame.own), tuple(parts), told_block(frame.rows[-1].listed))
+    if frame.role == "document":
+        return ("document",) + tuple([told_ruling(row) for row in frame.listed]) + (frame.own_words[0],)
+    parts = [(row.own_words[0], told_block(row.listed)) for row in frame.rows[:-1]]
+    return ("program", tuple(frame.own_words), tuple(parts), told_block(frame.rows[-1].listed))
 
 
 def told_ruling(frame):
-    return (frame.own[0], tuple([told_option(frame.sort, word) for word in frame.own[1:]]))
+    return (frame.own_words[0], tuple([told_option(frame.role, word) for word in frame.own_words[1:]]))
 
 
 def told_option(kind, word):
@@ -81,9 +81,9 @@ def told_block(frames):
 
 def told_item(frame):
     """The expression of an item."""
-    if frame.sort == "group":
+    if frame.role == "group":
         return told_block(frame.listed)
-    if frame.sort == "each":
+    if frame.role == "each":
         return told_head(frame, (told_block(frame.listed),))
     inner = [told_item(item) for item in frame.listed] + [told_block(row.listed) for row in frame.rows]
     return told_head(frame, tuple(inner))
@@ -91,13 +91,13 @@ def told_item(frame):
 
 def told_head(frame, inner):
     """The expression of a head that is no group, by the expressions inside it."""
-    own = tuple(frame.own)
-    if frame.sort == "number":
+    own = tuple(frame.own_words)
+    if frame.role == "number":
         return ("number", int(frame.word))
-    if frame.sort == "variable":
+    if frame.role == "variable":
         return ("name", frame.word) + tuple([int(word) for word in own[1:]])
-    if frame.sort == "each":
+    if frame.role == "each":
         return ("each", own[0], int(own[1]), int(own[2])) + inner + own[3:]
-    if frame.sort in OPERATIONS:
-        return (frame.sort,) + inner + own
-    return (frame.sort,) + own + inner
+    if frame.role in OPERATIONS:
+        return (frame.role,) + inner + own
+    return (frame.role,) + own + inner

@@ -45,7 +45,7 @@ def is_table(document, old, new, base, other, thing):
     if not isinstance(thing, tuple):
         return False
     check = Check(document, old, new)
-    rows = [check.row(row) for row in thing]
+    rows = [check.row_of(row) for row in thing]
     if None in rows or len(set(rows)) < len(rows):
         return False
     here = {row: True for row in rows}
@@ -63,7 +63,7 @@ class Check:
         self.old_numbers = numbers_of_pairs(self.old)
         self.new_numbers = numbers_of_pairs(self.new)
 
-    def row(self, thing):
+    def row_of(self, thing):
         """The row as one of Sides, None for any value that is none."""
         if not is_row(thing, 4) or not is_pair(thing[:2]) or thing[:2] not in self.new_numbers:
             return None

@@ -215,10 +215,19 @@ class LanguageTest(unittest.TestCase):
                             if isinstance(n, ast.Attribute) and isinstance(n.ctx, ast.Store)]
                     self.assertEqual(len(methods), len(set(methods)), name)
                     self.assertFalse(set(methods) & set(kept), name)
-                    self.assertFalse(set(kept) & set(METHODS), name)
+                    self.assertFalse(set(kept) & set(METHODS + ["sort", "args", "encode", "decode", "hex", "format"]), name)
                     for method in methods:
                         for value in ("", 1, [], {}, set(), b""):
                             self.assertFalse(method != "__init__" and hasattr(value, method), f"{name}: {method}")
+
+    def test_no_name_is_a_method_here_and_an_attribute_there(self):
+        methods, kept = set(), set()
+        for name, _, tree in sources():
+            for node in tree.body:
+                if isinstance(node, ast.ClassDef):
+                    methods |= {n.name for n in node.body if isinstance(n, ast.FunctionDef)}
+                    kept |= {n.attr for n in ast.walk(node) if isinstance(n, ast.Attribute) and isinstance(n.ctx, ast.Store)}
+        self.assertEqual(methods & kept, set())
 
     def test_views_are_iterated_at_once(self):
         for name, _, tree in sources():
