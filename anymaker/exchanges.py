@@ -4,7 +4,6 @@ from anymaker.errors import BadPart, BadPiece
 from anymaker.forms import is_word
 from anymaker.judging import judge_program
 from anymaker.programs import is_program, parts_of
-from anymaker.trees import is_tree
 
 
 def exchanged(program, part, piece):
@@ -13,7 +12,7 @@ def exchanged(program, part, piece):
     if not is_word(part, [name for name, _ in parts_of(program)]):
         raise BadPart("no name of a part of the program")
     found = put_for(program, part, piece)
-    if not is_tree(piece, None) or not is_program(found):
+    if not is_program(found):
         raise BadPiece("no expression that may stand for this part")
     return found
 

@@ -2,7 +2,6 @@
 
 from anymaker.errors import BadThing, TooMany
 from anymaker.forms import OPERATIONS
-from anymaker.frames import ROWS
 from anymaker.reading import read_layout, told_head, told_thing
 from anymaker.writing import text_of
 
@@ -66,10 +65,7 @@ class Ways:
         return self.block_trees(0, len(self.frames))
 
     def ends_of_item(self, at):
-        role = self.frames[at].role
-        if is_row_word(role):
-            return []
-        return self.ends_of_slots(slots_of(role), at + 1)
+        return self.ends_of_slots(slots_of(self.frames[at].role), at + 1)
 
     def ends_of_block(self, at):
         """A group is never the last item of a block."""
@@ -141,7 +137,3 @@ class Ways:
 def slots_of(role):
     """What stands inside an item of this role, one behind another."""
     return ("item", "item") if role in OPERATIONS else SLOTS.get(role, ())
-
-
-def is_row_word(role):
-    return any([role in ROWS[head] for head in ROWS])

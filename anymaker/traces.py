@@ -96,8 +96,6 @@ def fault_of(tables, works, item):
     if item[0] == "ruined":
         return item
     if item[0] == "begins":
-        if works and item[2] not in tables[item[1]]:
-            return ("ahead",) + item[1:]
-        return None
+        return None if item[2] in tables[item[1]] else ("ahead",) + item[1:]
     name, memory = works[-1]
     return None if item[1:] in tables[name][memory] else ("end",) + item[1:]

@@ -342,6 +342,30 @@ class DealTest(unittest.TestCase):
         self.assertFalse(is_deal(told, [LEFT], (maker_of(told, PAIR, (None, "up", 0, 1), ["right"]),)))
         self.assertFalse(is_deal(told, [LEFT], [maker_of(told, PAIR, (None, "up", 0, 1), [])]))
 
+    def test_makers_that_do_not_agree(self):
+        """For ever is so for all programs, for a program, a part or a place in all runs of it."""
+        makers = [maker_of(document(order=("ever", BOTH)), PAIR, (side, "up", 0, 1), []) for side in BOTH]
+        for scope, same, others in (("ever", False, False), ("program", False, True), ("run", True, True)):
+            told = document(order=(scope, BOTH))
+            self.assertIs(is_deal(told, [LEFT, RIGHT], tuple(makers)), same)
+            self.assertIs(is_deal(told, [LEFT, LATER], tuple(makers)), others)
+            self.assertIs(is_deal(told, [LATER, LEFT], tuple(makers[::-1])), others)
+            self.assertIs(is_deal(told, [LEFT, LEFT], (makers[0], makers[0])), True)
+
+    def test_makers_whose_runs_are_other_ones(self):
+        """A run that only begins as the record does not give it; a ruined one has to begin it by ahead."""
+        one = ("maker", ("left", "up", 0, 1), ((),))
+        ends = program(then(show(ONE), ZERO))
+        ruined = program(then(show(ONE), ("over", ONE, ZERO, "left")))
+        for thing, showing, ahead, whole in (
+                (ends, ((("shown", 1),), "ends"), True, True), (ends, ((("shown", 1), ("shown", 1)), "ends"), False, False),
+                (ends, ((("shown", 1),), "never"), False, False), (ends, ((), "more"), True, True), (ends, ((), "ends"), False, False),
+                (ruined, ((("shown", 1), ("shown", 0)), "ends"), True, True), (ruined, ((("shown", 0), ("shown", 0)), "ends"), False, True),
+                (ruined, ((("shown", 1),), "ends"), True, True), (ruined, ((), "never"), False, True), (ruined, ((), "more"), True, True)):
+            for told, fine in ((document(), ahead), (document(ruin="whole"), whole)):
+                self.assertIs(is_deal(told, [(thing, (), showing)], (one,)), fine, (thing, showing, told[5]))
+                self.assertIs(deal(told, [(thing, (), showing)]) is not None, fine)
+
     def test_too_many_choices(self):
         record = (SUMS, (), ((), "ends"))
         for call in (lambda: deal(WIDE, [record]), lambda: quarrel(WIDE, [LEFT, record])):

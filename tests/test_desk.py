@@ -152,6 +152,15 @@ class DeskTest(unittest.TestCase):
             Desk(text_of(document()))
         self.assertEqual(desk.say(line="run"), "shown 1 ends")
 
+    def test_the_first_document_and_number(self):
+        text = "program y\nbody show group plus set y 0\n                     set y 1\n                y\n     each y 0 1\n       show y\n     show y\n"
+        desk = Desk(text)
+        runs = ["shown 1 shown 0 shown 1 shown 1 ends", "shown 1 shown 1 shown 0 shown 0 ends",
+                "shown 0 shown 0 shown 1 shown 1 ends", "shown 0 shown 1 shown 0 shown 0 ends"]
+        self.check(desk, ("run", runs[0]), ("choices", "4"), ("hangs", "((order) (walk))"))
+        for at, run_line in enumerate(runs):
+            self.check(desk, (f"choose {at}", "ok"), ("run", run_line))
+
     def test_put(self):
         desk = Desk(TEXT)
         self.check(desk, ("put body 2.1\nshow 2\nask", "ok"), ("text", put(TEXT, "body", (2, 1), "show 2\nask")), ("run", "shown 2 waits"),

@@ -143,6 +143,29 @@ class IdleTest(unittest.TestCase):
         self.assertEqual(found[2][3], ())
         self.assertTrue(is_told_by(told, name("x"), (), found))
 
+    def test_none_is_told_from_each_worth(self):
+        """By left x stays unset, by right it is set; nothing else is unlike."""
+        for width in (1, 2):
+            told = document(("run", BOTH), width=("run", (width,)))
+            for worth in range(2 ** width):
+                piece = then(("plus", put("y", ONE), ("if", ("name", "y", 0), ZERO, put("x", number(worth)))), put("y", ONE), ZERO)
+                self.assertEqual(idle_everywhere(told, piece), ())
+                found = told_by(told, piece, (1,))
+                self.assertTrue(is_told_by(told, piece, (1,), found), (width, worth))
+
+    def test_thirty_nodes(self):
+        told = document(("run", BOTH))
+        for many, fine in ((14, True), (15, False)):
+            piece = then(*[ONE] * many, ("show", ONE)) if many == 14 else then(*[ONE] * many, ONE)
+            self.assertEqual(len(paths_of(piece)), 0)
+            nodes = str(piece).count("(")
+            self.assertEqual(nodes <= 30, fine)
+            if fine:
+                self.assertEqual((nodes, idle_everywhere(told, piece)), (30, ()))
+            else:
+                with self.assertRaises(BadPiece):
+                    idle_everywhere(told, piece)
+
     def test_ruin_rounds_and_memories_are_told(self):
         told = document(("run", BOTH))
         ends = ("plus", put("x", ONE), ("over", ONE, name("x")))

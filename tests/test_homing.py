@@ -179,6 +179,23 @@ class HomingTest(unittest.TestCase):
         for most, fine in ((1, False), (4, False), (5, True), (None, True)):
             self.assertIs(is_homing(EXAMPLE, SEEN, (), most, ("home", found[1], more)), fine)
 
+    def test_asks_need_fewer_asks_behind_them(self):
+        thing = program(then(ASK, ONE))
+        plain = Plain(document(), thing, choices(document(), thing)[0], ())
+        many = len(plain.moves)
+        for asks, fine in ((1, True), (0, False)):
+            table = {at: (None, asks if at == 0 else 0, many - at) for at in range(many)}
+            self.assertIs(is_homing(document(), thing, (), None, ("home", plain.choice, table)), fine)
+            self.assertIs(model_is_homing(document(), thing, (), None, ("home", plain.choice, table)), fine)
+
+    def test_steps_that_spoil_are_not_home(self):
+        for thing, barred in ((program(show(ONE)), (1,)), (program(("over", ONE, ZERO, "left")), ()), (program(then(show(ZERO), show(ONE))), (0,))):
+            choice = choices(document(), thing)[0]
+            many = len(Plain(document(), thing, choice, barred).moves)
+            table = {at: (None, 0, many - at) for at in range(many)}
+            self.assertIs(is_homing(document(), thing, barred, 3, ("home", choice, table)), False)
+            self.assertIs(is_homing(document(), program(show(ONE)), (0,), 3, ("home", choice, {0: (None, 0, 1), 1: (None, 0, 0)})), True)
+
     def test_wrong_mosts(self):
         for most in (-1, 31, True, "1", (), [1]):
             for call in (lambda: homing(document(), program(ONE), (), most), lambda: is_homing(document(), program(ONE), (), most, None)):
